@@ -79,7 +79,7 @@ func TestNotes(t *testing.T) {
 
 func TestNames(t *testing.T) {
 	for _, name := range []string{"a", "z", "A", "Z", "_", "a0", "_9", "x_Y_0189", "abcdefghijklmnopqrstuvwxyz", "ABCDEFGHIJKLMNOPQRSTUVWXYZ",
-		"iff", "i", "Int", "INT", "string", "main", "range", "var", "_if", "if_", "nil0", "xnil", strings.Repeat("n", 5000)} {
+		"iff", "i", "Int", "INT", "string", "main", "append", "cap", "const", "continue", "defer", "error", "fallthrough", "goto", "import", "len", "map", "package", "range", "recover", "switch", "var", "_if", "if_", "nil0", "xnil", strings.Repeat("n", 5000)} {
 		wantTokens(t, name+"+", api.Token{Kind: api.TokName, Text: name}, api.Token{Kind: api.TokSign, Text: "+", At: len(name)})
 	}
 	wantTexts(t, "12ab", "12 ab ;")
