@@ -88,10 +88,9 @@ func (p *parser) shut(word string) {
 	p.leave()
 }
 
-// put adds a node with these kids, and answers its number.
+// put adds a node, which keeps the list of its kids, and answers its number.
 func (p *parser) put(n api.Node, kids ...int) int {
-	// A copy, so that no two nodes share a list.
-	n.Kids = slices.Clone(kids)
+	n.Kids = kids
 	p.nodes = append(p.nodes, n)
 	return len(p.nodes) - 1
 }

@@ -208,6 +208,7 @@ func TestPrintRows(t *testing.T) {
 		// cases
 		"select{case(<-a)<-1:}":        "select {\n\tcase (<-a) <- 1:\n\t}",
 		"select{case(<-a+b)<-1:}":      "select {\n\tcase (<-a + b) <- 1:\n\t}",
+		"select{case(<-a)+b-c<-1:}":    "select {\n\tcase (<-a + b - c) <- 1:\n\t}",
 		"select{case(<-a)*b+c<-1:}":    "select {\n\tcase (<-a * b + c) <- 1:\n\t}",
 		"select{case(<-a+b)*c<-1:}":    "select {\n\tcase (<-a + b) * c <- 1:\n\t}",
 		"select{case a+<-b<-1:}":       "select {\n\tcase a + <-b <- 1:\n\t}",
