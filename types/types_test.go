@@ -397,3 +397,50 @@ func TestNewLists(t *testing.T) {
 		t.Error("two answers of Texts share memory")
 	}
 }
+
+// Split is what tellFunc writes, read; of other texts it says that they are none.
+func TestSplit(t *testing.T) {
+	for _, x := range []struct {
+		typ   string
+		takes []string
+		back  string
+	}{
+		{"func()", nil, ""},
+		{"func() int", nil, "int"},
+		{"func(int)", []string{"int"}, ""},
+		{"func(int,bool,*A) chan I", []string{"int", "bool", "*A"}, "chan I"},
+		{"func() func()", nil, "func()"},
+		{"func() func(int,int) bool", nil, "func(int,int) bool"},
+		{"func(func())", []string{"func()"}, ""},
+		{"func(func(),func()) int", []string{"func()", "func()"}, "int"},
+		{"func(func(int,bool) int,chan func(func(),I)) func(func()) *A", []string{"func(int,bool) int", "chan func(func(),I)"}, "func(func()) *A"},
+	} {
+		takes, back, is := Split(x.typ)
+		if !is || !slices.Equal(takes, x.takes) || back != x.back {
+			t.Errorf("%q: %q, %q, %v", x.typ, takes, back, is)
+		}
+	}
+	for _, typ := range []string{"", "int", "nil", "chan func()", "*func()", "func", "func(", "func(int", "func(int,", "func(func()", " func()", "fun()"} {
+		if takes, back, is := Split(typ); is || takes != nil || back != "" {
+			t.Errorf("%q: %q, %q, %v", typ, takes, back, is)
+		}
+	}
+}
+
+// A table that nobody has read has no types, and what is asked of it has an answer.
+func TestTable(t *testing.T) {
+	var none Table
+	if none.IsIface("I") || none.IsPointer("*A") || none.Fits("*A", "I") || !none.Fits("nil", "*A") || !none.Fits("I", "I") {
+		t.Error("a table without types has some")
+	}
+	table, fault := Read("type A struct{};type I interface{}")
+	if fault != (api.Fault{}) || len(table.Nodes) != 3 || len(table.Texts) != 3 {
+		t.Fatal(table, fault)
+	}
+	if !table.IsIface("I") || table.IsIface("A") || table.IsIface("*A") || !table.IsPointer("*A") || table.IsPointer("A") || table.IsPointer("*I") {
+		t.Error("the table has other types")
+	}
+	if table, fault := Read("type A"); fault.Code != api.ErrSyntax || table.Nodes != nil || table.Texts != nil {
+		t.Error(table, fault)
+	}
+}
