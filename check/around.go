@@ -120,7 +120,7 @@ func (c checker) use(number int) int {
 			return giver
 		}
 	}
-	return c.declOf(api.KFunc, name)
+	return c.funcOf(name)
 }
 
 // given answers the type of what is used by its name.

@@ -280,6 +280,47 @@ func TestDots(t *testing.T) {
 	faults(t, api.ErrType, "func main(){f()^.m()};func f() Z{}")
 }
 
+// Where several decls of one kind have a name, a type of this name has what each of them says; the second one is told where it stands.
+func TestDotsOfTypesThatAreThereTwice(t *testing.T) {
+	faults(t, api.ErrTwice,
+		"func f(x I){x.B()};type I interface{A()};^type I interface{B()};func main(){}",
+		"type I interface{A()};func f(x I){x.B();x.A()};^type I interface{B()};func main(){}",
+		"func f(x I){x.C(1)};type I interface{};^type I interface{B()};type I interface{C(a int)};func main(){}",
+		"func f(x I){print(x.B(x.A)+1)};type I interface{A()};^type I interface{B(f func()) int};func main(){}",
+		"func f(x *A){x.i.B()};type A struct{i I};type I interface{A()};^type I interface{B()};func main(){}",
+		"func f(x I){go x.B()};type I interface{};func main(){};^type I interface{B()}",
+		// A struct of the same name is another type.
+		"func f(x I){x.B()};type I struct{A int};^type I interface{B()};func main(){}",
+		"func f(x *I){x.A=1};type I interface{B()};^type I struct{A int};func main(){}",
+		// Fields, and methods of a struct.
+		"func f(x *A){x.b=true;x.a=1};type A struct{a int};^type A struct{b bool};func main(){}",
+		"type A struct{a int};func f(x *A){print(x.c)};^type A struct{b bool};type A struct{c int};func main(){}",
+		"func f(x *A){x.m()};type A struct{};^type A struct{b bool};func (a *A) m(){};func main(){}",
+		"type A struct{};^func (a *A) m(){};type A struct{m int};func main(){}",
+		// Of several members of one name it is the first.
+		"func f(x I){x.B()};type I interface{B()};^type I interface{B(a int)};func main(){}",
+		"func f(x I){x.B(1)};type I interface{B(a int)};^type I interface{B()};func main(){}",
+		"func f(x I){x.B(1)};type I interface{B(a int);^B()};func main(){}",
+		"func f(x *A){x.b=1};type A struct{b int};^type A struct{b bool};func main(){}",
+		"func f(x *A){x.m(1)};type A struct{};func (a *A) m(b int){};^func (a *A) m(){};func main(){}",
+	)
+	faults(t, api.ErrName,
+		"func f(x I){x^.C()};type I interface{A()};type I interface{B()};func main(){}",
+		"func f(x I){x^.A()};type I struct{A func()};type I interface{B()};func main(){}",
+		"func f(x *I){x^.B()};type I struct{A func()};type I interface{B()};func main(){}",
+		"func f(x I){x^.B()};type I interface{A()};type J interface{B()};type I interface{C()};func main(){}",
+		"func f(x *A){x^.c=1};type A struct{a int};type A struct{b bool};func main(){}",
+	)
+	faults(t, api.ErrCount, "func f(x I){x.B^(1)};type I interface{A()};type I interface{B()};func main(){}")
+	faults(t, api.ErrType,
+		"func f(x I){x.B^(true)};type I interface{A()};type I interface{B(a int)};func main(){}",
+		"func f(x I){^x.B=nil};type I interface{A()};type I interface{B()};func main(){}",
+		"func f(x *A){^x.b=1};type A struct{a int};type A struct{b bool};func main(){}",
+		// What fits has all of it, too.
+		"func f(x I,a *A){^x=a};type A struct{};func (a *A) A(){};type I interface{A()};type I interface{B()};func main(){}",
+	)
+}
+
 func TestCalls(t *testing.T) {
 	inMainFaults(t, api.ErrType,
 		"1^()",

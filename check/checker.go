@@ -73,10 +73,10 @@ func (c checker) first(number int, asked func(kid api.Node) bool) int {
 	return kids[at]
 }
 
-// declOf answers the number of the first decl of a kind that has the name, or -1.
-func (c checker) declOf(kind int, name string) int {
+// funcOf answers the number of the first KFunc that has the name, or -1.
+func (c checker) funcOf(name string) int {
 	program := len(c.Nodes) - 1
-	return c.first(program, func(kid api.Node) bool { return kid.Kind == kind && kid.Text == name })
+	return c.first(program, func(kid api.Node) bool { return kid.Kind == api.KFunc && kid.Text == name })
 }
 
 // kidType answers the type of one of a node's kids.

@@ -21,7 +21,7 @@ func (c checker) decl(number int) api.Errno {
 	case api.KMethod:
 		return c.method(number)
 	case api.KProgram:
-		return unless(c.declOf(api.KFunc, "main") >= 0, api.ErrMain)
+		return unless(c.funcOf("main") >= 0, api.ErrMain)
 	}
 	return api.OK
 }
@@ -66,29 +66,6 @@ func (c checker) function(number int) api.Errno {
 func (c checker) method(number int) api.Errno {
 	n := c.Nodes[number]
 	typ := c.kidType(n.Kids[0], 0)
-	if c.methodOf(typ, n.Text) != number {
-		return api.ErrTwice
-	}
-	return unless(c.fieldOf(typ, n.Text) < 0, api.ErrTwice)
-}
-
-// methodOf answers the number of the first KMethod of a struct, by its pointer's type, that has the name; or -1.
-func (c checker) methodOf(typ, name string) int {
-	program := len(c.Nodes) - 1
-	return c.first(program, func(kid api.Node) bool {
-		return kid.Kind == api.KMethod && kid.Text == name && c.kidType(kid.Kids[0], 0) == typ
-	})
-}
-
-// fieldOf answers the number of a struct's KField, by its pointer's type, that has the name; or -1.
-func (c checker) fieldOf(typ, name string) int {
-	if !c.IsPointer(typ) {
-		return -1
-	}
-	return c.first(c.declOf(api.KStruct, typ[1:]), func(kid api.Node) bool { return kid.Text == name })
-}
-
-// methodSigOf answers the number of an interface's KMethodSig that has the name, or -1.
-func (c checker) methodSigOf(iface, name string) int {
-	return c.first(c.declOf(api.KIface, iface), func(kid api.Node) bool { return kid.Text == name })
+	once := c.Method(typ, n.Text) == sigOf(n) && c.Field(typ, n.Text) < 0
+	return unless(once, api.ErrTwice)
 }

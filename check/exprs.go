@@ -55,24 +55,18 @@ func (c checker) name(number int) (string, api.Errno) {
 // dot answers the type of a field or a method. A struct that is not there may have methods: that is told where it is named.
 func (c checker) dot(number int) (string, api.Errno) {
 	typ, name := c.kidType(number, 0), c.Nodes[number].Text
-	switch {
-	case c.IsIface(typ):
-		return c.member(c.methodSigOf(typ, name), 0)
-	case !strings.HasPrefix(typ, "*"):
+	if !c.IsIface(typ) && !strings.HasPrefix(typ, "*") {
 		return "", api.ErrType
 	}
-	if field := c.fieldOf(typ, name); field >= 0 {
-		return c.member(field, 0)
+	// The table is asked, as it is for what fits: it has all that several decls of one name say.
+	member := c.Field(typ, name)
+	if member < 0 {
+		member = c.Method(typ, name)
 	}
-	return c.member(c.methodOf(typ, name), 1)
-}
-
-// member answers the type of a field or a method, told by its number (-1: there is none), which is that of one of its kids.
-func (c checker) member(number, place int) (string, api.Errno) {
-	if number < 0 {
+	if member < 0 {
 		return "", api.ErrName
 	}
-	return c.kidType(number, place), api.OK
+	return c.Texts[member], api.OK
 }
 
 func (c checker) call(number int) (string, api.Errno) {

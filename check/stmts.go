@@ -53,7 +53,7 @@ func (c checker) canBeSet(number int) bool {
 	case api.KName:
 		return c.Nodes[c.uses[number]].Kind != api.KFunc
 	case api.KDot:
-		return c.fieldOf(c.kidType(number, 0), n.Text) >= 0
+		return c.Field(c.kidType(number, 0), n.Text) >= 0
 	}
 	return false
 }

@@ -8,10 +8,18 @@ import (
 	"ravel/syntax"
 )
 
+// member is a field or a method: its name, and the number of its type, which of a method is its KSig.
+type member struct {
+	name string
+	typ  int
+}
+
 // entry is what a program says of a type.
 type entry struct {
 	decl    int      // KIface, if the type is an interface's name; KStruct, if it is "*" and a struct's name; else 0
-	methods []string // a name, a blank, a type; in the order of their bytes
+	fields  []member // in the order of the nodes
+	methods []member // in the order of the nodes
+	told    []string // of each method its name, a blank, its type; in the order of their bytes
 }
 
 // Table has the types of a program.
@@ -38,7 +46,7 @@ func Read(text string) (Table, api.Fault) {
 		t.learn(n)
 	}
 	for _, e := range t.known {
-		slices.Sort(e.methods)
+		slices.Sort(e.told)
 	}
 	return t, api.Fault{}
 }
@@ -47,26 +55,33 @@ func Read(text string) (Table, api.Fault) {
 func (t Table) learn(n api.Node) {
 	switch n.Kind {
 	case api.KStruct:
-		t.declare("*"+n.Text, n.Kind)
+		t.add("*"+n.Text, entry{decl: n.Kind, fields: t.members(n.Kids)})
 	case api.KIface:
-		t.declare(n.Text, n.Kind)
-		for _, kid := range n.Kids {
-			t.addMethod(n.Text, t.Nodes[kid].Text, t.Nodes[kid].Kids[0])
-		}
+		t.add(n.Text, entry{decl: n.Kind, methods: t.members(n.Kids)})
 	case api.KMethod:
-		t.addMethod(t.typeOf(n.Kids[0]), n.Text, n.Kids[1])
+		t.add(t.typeOf(n.Kids[0]), entry{methods: []member{{n.Text, n.Kids[1]}}})
 	}
 }
 
-func (t Table) declare(typ string, kind int) {
-	e := t.known[typ]
-	e.decl = kind
-	t.known[typ] = e
+// members answers the KFields or KMethodSigs that have these numbers.
+func (t Table) members(numbers []int) []member {
+	var out []member
+	for _, number := range numbers {
+		n := t.Nodes[number]
+		out = append(out, member{n.Text, n.Kids[0]})
+	}
+	return out
 }
 
-func (t Table) addMethod(typ, name string, sig int) {
+// add lays what one decl says of a type beside what others say of it.
+func (t Table) add(typ string, said entry) {
 	e := t.known[typ]
-	e.methods = append(e.methods, name+" "+t.Texts[sig])
+	e.decl = max(e.decl, said.decl)
+	e.fields = append(e.fields, said.fields...)
+	e.methods = append(e.methods, said.methods...)
+	for _, m := range said.methods {
+		e.told = append(e.told, m.name+" "+t.Texts[m.typ])
+	}
 	t.known[typ] = e
 }
 
@@ -78,6 +93,24 @@ func (t Table) IsIface(typ string) bool {
 // IsPointer tells whether a type is "*" and the name of a struct that is there.
 func (t Table) IsPointer(typ string) bool {
 	return t.known[typ].decl == api.KStruct
+}
+
+// Field answers the number of the type of the first field that has the name, of a type that is "*" and a struct's name; or -1.
+func (t Table) Field(typ, name string) int {
+	return find(t.known[typ].fields, name)
+}
+
+// Method answers the number of the KSig of the first method of a type that has the name, or -1.
+func (t Table) Method(typ, name string) int {
+	return find(t.known[typ].methods, name)
+}
+
+func find(members []member, name string) int {
+	at := slices.IndexFunc(members, func(m member) bool { return m.name == name })
+	if at < 0 {
+		return -1
+	}
+	return members[at].typ
 }
 
 // Fits tells whether a value of one type may stand where another one is asked.
@@ -100,10 +133,10 @@ func (t Table) takesNil(typ string) bool {
 
 // hasAll tells whether one type has all methods of another one.
 func (t Table) hasAll(from, to string) bool {
-	has := t.known[from].methods
+	has := t.known[from].told
 	lacks := func(method string) bool {
 		_, found := slices.BinarySearch(has, method)
 		return !found
 	}
-	return !slices.ContainsFunc(t.known[to].methods, lacks)
+	return !slices.ContainsFunc(t.known[to].told, lacks)
 }

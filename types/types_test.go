@@ -444,3 +444,37 @@ func TestTable(t *testing.T) {
 		t.Error(table, fault)
 	}
 }
+
+// Field and Method answer the number of the first member's type, of all decls of the name.
+func TestMembers(t *testing.T) {
+	table, fault := Read("type A struct{a int;b bool};type I interface{m();n(a int)};type A struct{b chan int;c *A};type I interface{n();o() int};func (a *A) m(){};func (a *A) m(b int){};func (i *I) p(){};type m struct{m int}")
+	if fault != (api.Fault{}) {
+		t.Fatal(fault)
+	}
+	for _, x := range []struct{ typ, name, field, method string }{
+		{"*A", "a", "int", ""},
+		{"*A", "b", "bool", ""},
+		{"*A", "c", "*A", ""},
+		{"*A", "m", "", "func()"},
+		{"I", "m", "", "func()"},
+		{"I", "n", "", "func(int)"},
+		{"I", "o", "", "func() int"},
+		{"*I", "p", "", "func()"},
+		{"*m", "m", "int", ""},
+		{"A", "a", "", ""}, {"A", "m", "", ""}, {"*I", "m", "", ""}, {"I", "p", "", ""}, {"*A", "", "", ""}, {"", "m", "", ""}, {"*B", "a", "", ""}, {"m", "m", "", ""}, {"*A", "d", "", ""},
+	} {
+		text := func(number int) string {
+			if number < 0 {
+				return ""
+			}
+			return table.Texts[number]
+		}
+		if field, method := table.Field(x.typ, x.name), table.Method(x.typ, x.name); text(field) != x.field || text(method) != x.method {
+			t.Errorf("%q of %q: %d, %d", x.name, x.typ, field, method)
+		}
+	}
+	var none Table
+	if none.Field("*A", "a") != -1 || none.Method("I", "m") != -1 {
+		t.Error("a table without types has members")
+	}
+}

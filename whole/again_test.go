@@ -11,6 +11,7 @@ import (
 
 // again is a second checker, which asks of each node by the chapter's words: a name is looked for among all that reach it.
 type again struct {
+	text   string
 	nodes  []api.Node
 	table  types.Table
 	texts  []string // of each node its type, once it is known
@@ -26,7 +27,7 @@ func checkAgain(text string) api.Fault {
 	}
 	table, _ := types.Read(text)
 	texts := slices.Clone(table.Texts)
-	a := again{nodes: nodes, table: table, texts: texts, parent: make([]int, len(nodes)), low: make([]int, len(nodes))}
+	a := again{text: text, nodes: nodes, table: table, texts: texts, parent: make([]int, len(nodes)), low: make([]int, len(nodes))}
 	for i, n := range nodes {
 		a.low[i] = i
 		for _, kid := range n.Kids {
@@ -133,11 +134,11 @@ func (a *again) member(kind int, typ, name string) (string, bool) {
 		}
 		switch kind {
 		case api.KField:
-			if "*"+a.nodes[a.parent[i]].Text == typ && a.firstDecl(a.parent[i]) {
+			if "*"+a.nodes[a.parent[i]].Text == typ {
 				return a.kid(i, 0), true
 			}
 		case api.KMethodSig:
-			if a.nodes[a.parent[i]].Text == typ && a.firstDecl(a.parent[i]) {
+			if a.nodes[a.parent[i]].Text == typ {
 				return a.kid(i, 0), true
 			}
 		case api.KMethod:
@@ -147,10 +148,6 @@ func (a *again) member(kind int, typ, name string) (string, bool) {
 		}
 	}
 	return "", false
-}
-
-func (a *again) firstDecl(i int) bool {
-	return a.count(i, func(k int, o api.Node) bool { return o.Kind == a.kind(i) && o.Text == a.nodes[i].Text }) == 0
 }
 
 // reach answers from which node on, and ahead of which one, a node gives its name.
@@ -253,19 +250,22 @@ func (a *again) expr(i int) (string, api.Errno) {
 
 func isChan(typ string) bool { return strings.HasPrefix(typ, "chan ") }
 
+// dot asks Methods whether there is a method, so that the chapters say the same of it.
 func (a *again) dot(typ, name string) (string, api.Errno) {
-	kinds := []int{api.KField, api.KMethod}
+	kind := api.KMethod
 	if a.named(api.KIface, typ) {
-		kinds = []int{api.KMethodSig}
+		kind = api.KMethodSig
 	} else if !strings.HasPrefix(typ, "*") {
 		return "", api.ErrType
+	} else if found, is := a.member(api.KField, typ, name); is {
+		return found, api.OK
 	}
-	for _, kind := range kinds {
-		if found, is := a.member(kind, typ, name); is {
-			return found, api.OK
-		}
+	methods, _ := types.Methods(a.text, typ)
+	if !slices.ContainsFunc(methods, func(method string) bool { return strings.HasPrefix(method, name+" ") }) {
+		return "", api.ErrName
 	}
-	return "", api.ErrName
+	found, _ := a.member(kind, typ, name)
+	return found, api.OK
 }
 
 // call asks of a call: what it takes is read from the types' own nodes, in a program that has such a param.

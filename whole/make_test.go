@@ -239,14 +239,17 @@ func made(r *rand.Rand) string {
 	}
 }
 
-// spoilt answers a program in which something may be wrong: tokens or lines are others, or stand elsewhere.
+// spoilt answers a program in which something may be wrong: tokens, lines or decls are others, or stand elsewhere.
 func spoilt(r *rand.Rand, text string) string {
 	for {
 		other := text
 		for range 1 + r.Intn(3) {
-			if r.Intn(3) == 0 {
+			switch r.Intn(6) {
+			case 0:
+				other = otherDecl(r, other)
+			case 1, 2:
 				other = otherLine(r, other)
-			} else {
+			default:
 				other = otherToken(r, other)
 			}
 		}
@@ -254,6 +257,19 @@ func spoilt(r *rand.Rand, text string) string {
 			return other
 		}
 	}
+}
+
+// otherDecl lets two decls change places; types perhaps get one name, so that members of both are used ahead of the second one.
+func otherDecl(r *rand.Rand, text string) string {
+	decls := strings.Split(text, "\n\n")
+	from, to := r.Intn(len(decls)), r.Intn(len(decls))
+	words, others := strings.SplitN(decls[from], " ", 3), strings.SplitN(decls[to], " ", 3)
+	if words[0] == "type" && others[0] == "type" {
+		words[1] = others[1]
+		decls[from] = strings.Join(words, " ")
+	}
+	decls[from], decls[to] = decls[to], decls[from]
+	return strings.Join(decls, "\n\n")
 }
 
 // otherLine leaves a line out, writes one twice, or puts one elsewhere.
