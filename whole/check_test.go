@@ -2,6 +2,7 @@ package whole
 
 import (
 	"math/rand"
+	"slices"
 	"testing"
 
 	"ravel/api"
@@ -46,6 +47,10 @@ func holdCheck(t *testing.T, text string, nodes []api.Node, answer goAnswer) {
 	t.Helper()
 	texts, fault := check.Check(text)
 	uses, used := check.Uses(text)
+	read, told := check.Read(text)
+	if told != fault || !slices.Equal(read.Texts, texts) || !slices.Equal(read.Uses, uses) || len(read.Nodes) != len(texts) {
+		t.Errorf("Read says something else, %v, than %v of\n%s", told, fault, text)
+	}
 	if fault != used || (fault.Code == api.OK) != (len(answer.wrong) == 0) {
 		t.Errorf("%v, %v, and Go says %q of\n%s", fault, used, answer.wrong, text)
 		return
