@@ -1,6 +1,7 @@
 package run
 
 import (
+	"slices"
 	"sync"
 	"sync/atomic"
 
@@ -11,6 +12,7 @@ import (
 type host struct {
 	program
 	script  []int // what is left of it
+	picks   []Pick
 	steps   atomic.Int64
 	threads []*thread
 	at      []mark // of each thread where it stands
@@ -54,10 +56,11 @@ func (h *host) goOn(number int, a answer) {
 	if h.over {
 		return
 	}
+	h.leave(number)
 	t := h.threads[number]
 	t.answers <- a
 	m := <-t.marks
-	h.at[number] = m
+	h.come(number, m)
 	if m.status != api.Done {
 		h.end(m.status, m.node)
 	}
@@ -75,14 +78,24 @@ func (h *host) tell(kind, number, node, num int) {
 
 // pick answers a place below how many there are.
 func (h *host) pick(many int) int {
-	if many < 2 || len(h.script) == 0 {
+	if many < 2 {
 		return 0
 	}
-	number := h.script[0] % many
-	h.script = h.script[1:]
-	if number < 0 {
-		number += many
+	place := h.take() % many
+	if place < 0 {
+		place += many
 	}
+	h.picks = append(h.picks, Pick{place, many})
+	return place
+}
+
+// take takes the script's next number: 0, when it is at its end.
+func (h *host) take() int {
+	if len(h.script) == 0 {
+		return 0
+	}
+	number := h.script[0]
+	h.script = h.script[1:]
 	return number
 }
 
@@ -112,7 +125,7 @@ func (h *host) able(number int) bool {
 	}
 	switch h.Nodes[m.node].Kind {
 	case api.KSend, api.KRecv, api.KSelect:
-		return m.other > 0 || len(h.ableArms(number)) > 0
+		return m.other > 0 || slices.ContainsFunc(m.arms, func(a arm) bool { return a.able(number) })
 	}
 	return true
 }

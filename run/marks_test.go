@@ -4,6 +4,7 @@ import (
 	"math"
 	"reflect"
 	"runtime"
+	"slices"
 	"strconv"
 	"strings"
 	"sync"
@@ -11,6 +12,7 @@ import (
 	"time"
 
 	"ravel/api"
+	"ravel/check"
 )
 
 // two has two threads that send, and one that receives once.
@@ -41,6 +43,33 @@ func TestPicks(t *testing.T) {
 	hold(t, cases, []int{0, 3, 1}, "0 go 1; 0 send@1 1; 1 print 1; 0 end; done")
 	hold(t, cases, []int{1, 1, 2}, "0 go 1; 1 print 1; 1 end; 0 send@3 3; 0 end; done")
 	hold(t, "func main(){c:=make(chan int,1);select{case <-c:@1case c<-1:}}", []int{1, 1}, "0 send@1 1; 0 end; done")
+}
+
+// TestWhatWasPicked: where there are at least two, the place and how many there are, also behind the script's end; the trace is that of Run.
+func TestWhatWasPicked(t *testing.T) {
+	text, _ := unmark(two)
+	read, _ := check.Read(text)
+	for _, x := range []struct {
+		script []int
+		want   []Pick
+	}{
+		{nil, []Pick{{0, 3}, {0, 2}, {0, 2}}},
+		{[]int{1}, []Pick{{1, 3}, {0, 2}, {0, 2}}},
+		{[]int{-1, 4, 7, 5}, []Pick{{2, 3}, {0, 2}, {1, 2}}},
+		{[]int{5, 3, 7}, []Pick{{2, 3}, {1, 2}}},
+	} {
+		trace, picks := Picks(read, x.script)
+		if !slices.Equal(picks, x.want) {
+			t.Errorf("%v: %v, not %v", x.script, picks, x.want)
+		}
+		if want, _ := Run(text, x.script); !reflect.DeepEqual(trace, want) {
+			t.Errorf("%v: %v, not %v", x.script, trace, want)
+		}
+	}
+	read, _ = check.Read("func main(){print(1)}")
+	if _, picks := Picks(read, []int{1, 2}); len(picks) > 0 {
+		t.Error(picks)
+	}
 }
 
 // TestGoOn: E5: who is picked goes on first, then who is met, or begun.

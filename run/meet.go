@@ -1,19 +1,54 @@
 package run
 
-import "ravel/api"
+import (
+	"slices"
 
-// ableArms answers the places of those arms of a thread's mark that can be done.
-func (h *host) ableArms(number int) []int {
-	var out []int
-	for place, a := range h.at[number].arms {
-		if h.ableArm(number, a) {
-			out = append(out, place)
+	"ravel/api"
+)
+
+// crowds answers, of the channel of an arm, those that stand there as the arm does, and those that stand on the other side.
+func (a arm) crowds() (same, others *crowd) {
+	if a.sends {
+		return &a.channel.senders, &a.channel.takers
+	}
+	return &a.channel.takers, &a.channel.senders
+}
+
+// come puts a thread at its mark, and among those that stand at the channels there: so who can be met is known without going through all arms of all threads.
+func (h *host) come(number int, m mark) {
+	h.at[number] = m
+	for _, a := range m.arms {
+		if a.channel != nil {
+			same, _ := a.crowds()
+			*same |= 1 << number
+		}
+	}
+}
+
+// leave takes a thread from its mark.
+func (h *host) leave(number int) {
+	for _, a := range h.at[number].arms {
+		if a.channel != nil {
+			same, _ := a.crowds()
+			*same &^= 1 << number
+		}
+	}
+	h.at[number] = mark{}
+}
+
+// ableArms answers those arms of a thread's mark that can be done.
+func (h *host) ableArms(number int) []arm {
+	var out []arm
+	for _, a := range h.at[number].arms {
+		if a.able(number) {
+			out = append(out, a)
 		}
 	}
 	return out
 }
 
-func (h *host) ableArm(number int, a arm) bool {
+// able tells whether a thread can do an arm of its mark.
+func (a arm) able(number int) bool {
 	c := a.channel
 	switch {
 	case c == nil:
@@ -21,37 +56,30 @@ func (h *host) ableArm(number int, a arm) bool {
 	case c.closed:
 		return true
 	case c.room == 0:
-		other, _ := h.met(number, a)
-		return other >= 0
+		_, others := a.crowds()
+		return others.least(number) >= 0
 	case a.sends:
 		return len(c.held) < c.room
 	}
 	return len(c.held) > 0
 }
 
-// met answers the other thread that stands where it does the other side of an arm, and which of its arms does; or -1.
+// met answers the other thread that an arm meets, and which of its arms is the other side: the first one that fits.
 func (h *host) met(number int, a arm) (int, arm) {
-	for other, m := range h.at {
-		if other == number {
-			continue
-		}
-		for _, b := range m.arms {
-			if b.channel == a.channel && b.sends != a.sends {
-				return other, b
-			}
-		}
-	}
-	return -1, arm{}
+	_, others := a.crowds()
+	other := others.least(number)
+	arms := h.at[other].arms
+	return other, arms[slices.IndexFunc(arms, func(b arm) bool { return b.channel == a.channel && b.sends != a.sends })]
 }
 
 // choose does a KSend, a KRecv, or a case of a KSelect.
 func (h *host) choose(number int, m mark) {
-	places := h.ableArms(number)
-	if len(places) == 0 {
+	arms := h.ableArms(number)
+	if len(arms) == 0 {
 		h.goOn(number, answer{node: m.other})
 		return
 	}
-	a := m.arms[places[h.pick(len(places))]]
+	a := arms[h.pick(len(arms))]
 	switch c := a.channel; {
 	case c.closed && a.sends:
 		h.end(api.Fell, a.node)

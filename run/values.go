@@ -1,5 +1,7 @@
 package run
 
+import "math/bits"
+
 // value is an int64, a bool, a *thing, a *channel, a *function, or nil.
 type value any
 
@@ -36,10 +38,23 @@ type thing struct {
 
 // channel is what `make` makes.
 type channel struct {
-	room   int
-	zero   value
-	held   []value
-	closed bool
+	room    int
+	zero    value
+	held    []value
+	closed  bool
+	senders crowd // who stands to send on it
+	takers  crowd // who stands to receive from it
+}
+
+// crowd has threads: the bits of their numbers.
+type crowd uint
+
+// least answers the least number of those that are there, but for one; or -1.
+func (c crowd) least(but int) int {
+	if others := c &^ (1 << but); others != 0 {
+		return bits.TrailingZeros(uint(others))
+	}
+	return -1
 }
 
 // function is what a literal, a function's name, or a method with what stands ahead of its `.` makes.
