@@ -78,20 +78,35 @@ type machine struct {
 }
 
 func runAgain(text string, script []int) (api.Trace, api.Fault) {
-	types, fault := check.Check(text)
+	m, fault := readAgain(text)
 	if fault.Code != api.OK {
 		return api.Trace{}, fault
 	}
-	m := machine{types: types, script: slices.Clone(script)}
-	m.uses, _ = check.Uses(text)
-	m.nodes, _ = syntax.Parse(text)
+	trace, _ := m.run(script)
+	return trace, api.Fault{}
+}
+
+// readAgain answers a machine that has not begun.
+func readAgain(text string) (machine, api.Fault) {
+	types, fault := check.Check(text)
+	if fault.Code != api.OK {
+		return machine{}, fault
+	}
+	uses, _ := check.Uses(text)
+	nodes, _ := syntax.Parse(text)
+	return machine{types: types, uses: uses, nodes: nodes}, api.Fault{}
+}
+
+// run answers also of each pick how many there were. It runs a copy, so that the machine can be run again.
+func (m machine) run(script []int) (api.Trace, []int) {
+	m.script = slices.Clone(script)
 	main := slices.IndexFunc(m.nodes, func(n api.Node) bool { return n.Kind == api.KFunc && n.Text == "main" })
 	m.newStrand(&routine{node: main}, nil)
 	m.advance(m.strands[0])
 	for !m.over {
 		m.turn()
 	}
-	return m.trace, api.Fault{}
+	return m.trace, m.sizes
 }
 
 func (m *machine) finish(status, at int) {
