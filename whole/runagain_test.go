@@ -63,6 +63,7 @@ type strand struct {
 	after  func(node int, held any) // how it goes on behind the mark
 	call   *routine
 	values []any
+	ways   [][]int // of each call the stations that it has gone over
 }
 
 type machine struct {
@@ -74,7 +75,8 @@ type machine struct {
 	strands []*strand
 	over    bool
 	trace   api.Trace
-	sizes   []int // of each pick how many there were
+	sizes   []int                        // of each pick how many there were
+	goes    func(way []int, station int) // is told of each station, and those ahead of it in its call; perhaps nil
 }
 
 func runAgain(text string, script []int) (api.Trace, api.Fault) {
@@ -193,8 +195,26 @@ func (m *machine) enter(s *strand, f *routine, values []any) {
 		zero = m.zeroOf(sig.Kids[sig.Num])
 	}
 	s.deep++
-	s.jobs = append(s.jobs, job{what: "call", tall: len(s.held), do: func() { s.deep--; s.push(zero) }})
+	s.ways = append(s.ways, []int{f.node})
+	s.jobs = append(s.jobs, job{what: "call", tall: len(s.held), do: func() { m.leave(s); s.push(zero) }})
 	s.plan(func() { m.stmt(s, body, inner) })
+}
+
+// leave comes to the end of a call.
+func (m *machine) leave(s *strand) {
+	kids := m.nodes[s.ways[len(s.ways)-1][0]].Kids
+	m.comes(s, kids[len(kids)-2])
+	s.ways = s.ways[:len(s.ways)-1]
+	s.deep--
+}
+
+// comes tells that a call comes to a station.
+func (m *machine) comes(s *strand, station int) {
+	way := &s.ways[len(s.ways)-1]
+	if m.goes != nil {
+		m.goes(*way, station)
+	}
+	*way = append(*way, station)
 }
 
 func (m *machine) zeroOf(typ int) any {
@@ -223,6 +243,9 @@ func (m *machine) stmt(s *strand, node int, in names) {
 	}
 	n := m.nodes[node]
 	kid := func(place int) func() { return func() { m.expr(s, n.Kids[place], in) } }
+	if n.Kind != api.KBlock {
+		m.comes(s, node)
+	}
 	switch n.Kind {
 	case api.KBlock:
 		inner := maps.Clone(in)
@@ -245,7 +268,7 @@ func (m *machine) stmt(s *strand, node int, in names) {
 		})
 	case api.KFor:
 		s.jobs = append(s.jobs, job{what: "loop", do: func() {}})
-		m.again(s, n, in)
+		m.again(s, node, in)
 	case api.KBreak:
 		s.back("loop")
 	case api.KReturn:
@@ -258,7 +281,7 @@ func (m *machine) stmt(s *strand, node int, in names) {
 		s.jobs = slices.Insert(s.jobs, at, job{do: func() {
 			v := s.pop()
 			s.held = s.held[:s.back("call").tall]
-			s.deep--
+			m.leave(s)
 			s.push(v)
 		}})
 	default:
@@ -266,10 +289,11 @@ func (m *machine) stmt(s *strand, node int, in names) {
 	}
 }
 
-func (m *machine) again(s *strand, n api.Node, in names) {
+func (m *machine) again(s *strand, node int, in names) {
+	n := m.nodes[node]
 	s.plan(func() { m.expr(s, n.Kids[0], in) }, func() {
 		if s.pop() == true {
-			s.plan(func() { m.stmt(s, n.Kids[1], in) }, func() { m.again(s, n, in) })
+			s.plan(func() { m.stmt(s, n.Kids[1], in) }, func() { m.comes(s, node); m.again(s, node, in) })
 		}
 	})
 }
