@@ -31,15 +31,15 @@ func (a around) outward(number int) iter.Seq2[int, int] {
 	}
 }
 
-// isBody tells whether a kind has a block that is called.
-func isBody(kind int) bool {
+// IsFunction tells whether a kind is one of functions, methods or literals: what has a block that is called.
+func IsFunction(kind int) bool {
 	return kind == api.KFunc || kind == api.KMethod || kind == api.KLit
 }
 
 // sigAround answers the number of the KSig of the function or literal around a statement.
 func (c checker) sigAround(number int) int {
 	for _, outer := range c.outward(number) {
-		if n := c.Nodes[outer]; isBody(n.Kind) {
+		if n := c.Nodes[outer]; IsFunction(n.Kind) {
 			return sigOf(n)
 		}
 	}
@@ -57,7 +57,7 @@ func (c checker) inFor(number int) bool {
 		switch kind := c.Nodes[outer].Kind; {
 		case kind == api.KFor:
 			return true
-		case isBody(kind):
+		case IsFunction(kind):
 			return false
 		}
 	}
@@ -85,7 +85,7 @@ func (c checker) givers(kid, number int) []int {
 		return c.definesAhead(kid, n)
 	case n.Kind == api.KCaseRecv && c.Nodes[kid].Kind == api.KBlock:
 		return []int{number}
-	case isBody(n.Kind):
+	case IsFunction(n.Kind):
 		return c.params(n)
 	}
 	return nil

@@ -23,14 +23,18 @@ func read(text string) (graph, api.Fault) {
 	if fault.Code != api.OK {
 		return graph{}, fault
 	}
-	g := graph{nodes: program.Nodes, edges: map[[2]int]struct{}{}}
+	return build(program.Nodes), api.Fault{}
+}
+
+func build(nodes []api.Node) graph {
+	g := graph{nodes: nodes, edges: map[[2]int]struct{}{}}
 	for number, n := range g.nodes {
-		if isFunction(n.Kind) {
+		if check.IsFunction(n.Kind) {
 			sig, block := n.Kids[len(n.Kids)-2], n.Kids[len(n.Kids)-1]
 			builder{graph: g, end: sig}.part(number, block, exits{behind: sig, broken: -1})
 		}
 	}
-	return g, api.Fault{}
+	return g
 }
 
 // part joins a station with the first one of a part of it, and those of the part.

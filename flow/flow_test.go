@@ -58,7 +58,7 @@ func tell(t *testing.T, marked string) told {
 	}
 	name := func(number int) string {
 		n := nodes[number]
-		if mark := marks[n.At]; mark != "" && (isFunction(n.Kind) || n.Kind == api.KSig || n.Kind > api.KBlock && n.Kind <= api.KPrint) {
+		if mark := marks[n.At]; mark != "" && (check.IsFunction(n.Kind) || n.Kind == api.KSig || n.Kind > api.KBlock && n.Kind <= api.KPrint) {
 			return mark
 		}
 		return fmt.Sprintf("<%d>", number)

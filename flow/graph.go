@@ -5,6 +5,7 @@ import (
 	"slices"
 
 	"ravel/api"
+	"ravel/check"
 )
 
 // graph has the edges between the stations of a program.
@@ -55,7 +56,7 @@ func (g graph) order() []int {
 		left = append(left, station)
 	}
 	for number, n := range g.nodes {
-		if isFunction(n.Kind) {
+		if check.IsFunction(n.Kind) {
 			visit(number)
 		}
 	}
@@ -63,6 +64,11 @@ func (g graph) order() []int {
 	return left
 }
 
-func isFunction(kind int) bool {
-	return kind == api.KFunc || kind == api.KMethod || kind == api.KLit
+// reached answers of each node 1, if it is a reached station, else 0.
+func (g graph) reached() []int {
+	out := make([]int, len(g.nodes))
+	for _, station := range g.order() {
+		out[station] = 1
+	}
+	return out
 }

@@ -13,7 +13,11 @@ import (
 
 // This is a second way to run programs: a thread is a stack of things to do, all of it is done by one goroutine, and numbers are reckoned without a bound and cut afterwards.
 
-type cell struct{ held any }
+type cell struct {
+	held  any
+	by    int // the node that set it last; of fields 0
+	since int // how many stations the call had gone over then
+}
 
 // names has the variables that are there, by their nodes.
 type names map[int]*cell
@@ -75,8 +79,9 @@ type machine struct {
 	strands []*strand
 	over    bool
 	trace   api.Trace
-	sizes   []int                        // of each pick how many there were
-	goes    func(way []int, station int) // is told of each station, and those ahead of it in its call; perhaps nil
+	sizes   []int                               // of each pick how many there were
+	goes    func(way []int, station int)        // is told of each station, and those ahead of it in its call; perhaps nil
+	reads   func(way []int, name int, of *cell) // is told of each name that reads a variable, and the stations of its call; perhaps nil
 }
 
 func runAgain(text string, script []int) (api.Trace, api.Fault) {
@@ -188,7 +193,7 @@ func (m *machine) enter(s *strand, f *routine, values []any) {
 		params = append([]int{n.Kids[0]}, params...)
 	}
 	for i, v := range append(slices.Clone(f.ahead), values...) {
-		inner[params[i]] = &cell{v}
+		inner[params[i]] = &cell{held: v, by: params[i]}
 	}
 	var zero any
 	if len(sig.Kids) > sig.Num {
@@ -253,9 +258,9 @@ func (m *machine) stmt(s *strand, node int, in names) {
 			s.plan(func() { m.stmt(s, line, inner) })
 		}
 	case api.KDefine:
-		s.plan(kid(0), func() { in[node] = &cell{s.pop()} })
+		s.plan(kid(0), func() { in[node] = s.newCell(s.pop(), node) })
 	case api.KAssign:
-		m.assign(s, n, in)
+		m.assign(s, node, in)
 	case api.KDo:
 		s.plan(kid(0), func() { s.pop() })
 	case api.KIf:
@@ -298,11 +303,18 @@ func (m *machine) again(s *strand, node int, in names) {
 	})
 }
 
-func (m *machine) assign(s *strand, n api.Node, in names) {
+// newCell answers a variable that is set by a node of the call that goes on.
+func (s *strand) newCell(held any, by int) *cell { return &cell{held, by, len(s.way())} }
+
+// way answers the stations of the call that goes on.
+func (s *strand) way() []int { return s.ways[len(s.ways)-1] }
+
+func (m *machine) assign(s *strand, node int, in names) {
+	n := m.nodes[node]
 	left := m.nodes[n.Kids[0]]
 	value := func() { m.expr(s, n.Kids[1], in) }
 	if left.Kind == api.KName {
-		s.plan(value, func() { in[m.uses[n.Kids[0]]].held = s.pop() })
+		s.plan(value, func() { *in[m.uses[n.Kids[0]]] = *s.newCell(s.pop(), node) })
 		return
 	}
 	s.plan(func() { m.expr(s, left.Kids[0], in) }, value, func() {
@@ -372,7 +384,7 @@ func (m *machine) selects(s *strand, node int, in names) {
 		s.halt, s.node, s.ends, s.other = "meet", node, ends, other
 		s.after = func(picked int, held any) {
 			inner := maps.Clone(in)
-			inner[picked] = &cell{held}
+			inner[picked] = s.newCell(held, picked)
 			kids := m.nodes[picked].Kids
 			s.plan(func() { m.stmt(s, kids[len(kids)-1], inner) })
 		}
@@ -415,6 +427,9 @@ func (m *machine) expr(s *strand, node int, in names) {
 		if use := m.uses[node]; m.nodes[use].Kind == api.KFunc {
 			s.push(&routine{node: use})
 		} else {
+			if m.reads != nil {
+				m.reads(s.way(), node, in[use])
+			}
 			s.push(in[use].held)
 		}
 	case api.KLit:
@@ -479,7 +494,7 @@ func (m *machine) newObject(owner string) *object {
 	for _, n := range m.nodes {
 		if n.Kind == api.KStruct && n.Text == owner {
 			for _, field := range n.Kids {
-				x.fields[m.nodes[field].Text] = &cell{m.zeroOf(m.nodes[field].Kids[0])}
+				x.fields[m.nodes[field].Text] = &cell{held: m.zeroOf(m.nodes[field].Kids[0])}
 			}
 		}
 	}
