@@ -178,8 +178,8 @@ func TestReads(t *testing.T) {
 	// A field is no variable: what stands ahead of its dot is read.
 	hold(t, "type A struct{n int;a *A};@ffunc main@e(){@1p:=new(A);@2x:=1;@3p.n=@bx;@4p.a.n=2;@5p=@dp.a;@6p=nil}", told{
 		comes: "3:1 4:1 b:2 d:1", needed: "2:1 3:12 4:1 5:1", idle: "5 6"})
-	hold(t, "type A struct{n int};type I interface{};@ffunc f@e(@pi I)int{@1return @ai.(*A).n};func main(){}", told{comes: "a:p", needed: "1:p f:p"})
-	hold(t, "@ffunc f@e(@px int,@qb bool)bool{@1return !@bb&&-@ax<2||@cx==(@dx)};func main(){}", told{comes: "a:p b:q c:p d:p", needed: "1:pq f:pq"})
+	hold(t, "type A struct{n int};type I interface{};@ffunc f@e(@pi I)int{@1return @ai.(*A).n};func main(){}", told{comes: "a:p", needed: "1:p"})
+	hold(t, "@ffunc f@e(@px int,@qb bool)bool{@1return !@bb&&-@ax<2||@cx==(@dx)};func main(){}", told{comes: "a:p b:q c:p d:p", needed: "1:pq"})
 	// Names of functions are read of no variable.
 	hold(t, "func g(){};@ffunc main@e(){@1g();@2h:=g;@3h()}", told{comes: "3:2", needed: "3:2"})
 	// Both sides of && and || are read, and conditions decide nothing.
@@ -235,7 +235,7 @@ func TestUnreached(t *testing.T) {
 	hold(t, "@ffunc main@e(){@1x:=1;@2for true{@3break;@4panic(x)}}", told{idle: "1"})
 	hold(t, "@ffunc main@e(){@1c:=make(chan int);@2for true{@3return;@4select{case <-c:panic(1)}}}", told{idle: "1"})
 	// A literal is from itself, also where nobody comes.
-	hold(t, "@ffunc main@e(){@1return;@2x:=@gfunc(@px int)int{@3y:=@ax;@4return @by}}", told{comes: "a:p b:3", needed: "3:p 4:3 g:p"})
+	hold(t, "@ffunc main@e(){@1return;@2x:=@gfunc(@px int)int{@3y:=@ax;@4return @by}}", told{comes: "a:p b:3", needed: "3:p 4:3"})
 }
 
 // TestSelect: H2 to H4: what is received is set at the edge to the case's block; channels and values are read by the select.
@@ -264,17 +264,17 @@ func TestSelect(t *testing.T) {
 
 // TestFunctions: H2, H3: params are set where the function begins; each function, method and literal is by itself.
 func TestFunctions(t *testing.T) {
-	hold(t, "@ffunc f@e(@pa int,@qb int){@1print(@aa)};func main(){}", told{comes: "a:p", needed: "1:p f:p"})
+	hold(t, "@ffunc f@e(@pa int,@qb int){@1print(@aa)};func main(){}", told{comes: "a:p", needed: "1:p"})
 	hold(t, "@ffunc f@e(@pa int,@qb int){@1b=2;@2for true{@3print(@aa+@bb);@4a=3}};func main(){}", told{
-		comes: "a:4p b:1", needed: "1:p 2:pq 3:pq 4:q f:p"})
+		comes: "a:4p b:1", needed: "1:p 2:pq 3:pq 4:q"})
 	hold(t, "type A struct{n int};@ffunc(@pa *A)m@e(@qb int)int{@1if @aa==nil{@2return @bb};@3b=1;@4return @ca.n};func main(){}", told{
-		comes: "a:p b:q c:p", needed: "1:pq 2:q 3:p 4:p f:pq", idle: "3"})
+		comes: "a:p b:q c:p", needed: "1:pq 2:q 3:p 4:p", idle: "3"})
 	// A literal's variables are none of those of the function around.
 	hold(t, "@ffunc main@e(){@1x:=1;@2g:=@lfunc@k(@px int)int{@3x=@ax+1;@4return @bx};@5print(@cg(@dx))}", told{
-		comes: "a:p b:3 c:2 d:1", needed: "2:1 3:p 4:p 5:12 l:p"})
+		comes: "a:p b:3 c:2 d:1", needed: "2:1 3:p 4:p 5:12"})
 	// A station around a literal does not read what stands in that one.
 	hold(t, "@ffunc main@e(){@1x:=1;@2print(@lfunc@k(@px int)int{@3y:=2;@4return @ax+@by}(@cx))}", told{
-		comes: "a:p b:3 c:1", needed: "2:1 3:p 4:3p l:p"})
+		comes: "a:p b:3 c:1", needed: "2:1 3:p 4:3p"})
 	hold(t, "@ffunc main@e(){@1for @lfunc@k()bool{@2x:=1;@3for @ax<2{@4x=@bx+1};@5return true}(){}}", told{comes: "a:24 b:24", needed: "3:2 4:2"})
 	// Shared variables are told of nowhere.
 	hold(t, "@ffunc main@e(){@1x:=1;@2x=2;@3print(x);go @lfunc@k(){@4x=3;@5print(x)}()}", told{shared: "1"})
@@ -296,7 +296,7 @@ func TestExample(t *testing.T) {
 	if got := fmt.Sprint(comes); got != "[[] [] [] [] [] [] [4] [1] [] [] [9] [] [] [] [] [] [] []]" {
 		t.Error(got)
 	}
-	if got := fmt.Sprint(needed); got != "[[] [] [] [] [1] [] [] [] [] [1 4] [] [4] [] [1] [] [] [] []]" {
+	if got := fmt.Sprint(needed); got != "[[] [] [] [] [1] [] [] [] [] [1 4] [] [4] [] [] [] [] [] []]" {
 		t.Error(got)
 	}
 	if !slices.Equal(idle, []int{2, 5}) {

@@ -1,6 +1,11 @@
 package defs
 
-import "slices"
+import (
+	"slices"
+
+	"ravel/api"
+	"ravel/check"
+)
 
 // variables are those that are needed somewhere.
 type variables map[int]struct{}
@@ -10,7 +15,7 @@ func (v variables) has(variable int) bool {
 	return is
 }
 
-// need answers of each station the variables that are needed ahead of it. No step sets params: they are handed over ahead of the function's node, so they can be needed there.
+// need answers of each station the variables that are needed ahead of it.
 func (t *table) need() []variables {
 	ahead := make([]variables, len(t.Nodes))
 	for number := range ahead {
@@ -27,10 +32,16 @@ func (t *table) need() []variables {
 		// No step leads from a station to itself, so these are two maps.
 		here, there := ahead[s.from], ahead[s.to]
 		for variable := range there {
-			if variable != t.sets[s.setter] {
+			if !t.isSet(s, variable) {
 				here[variable] = struct{}{}
 			}
 		}
 	})
 	return ahead
+}
+
+// isSet tells whether a variable is set when one goes along a step. Params are set where the function begins, and from there one comes just to who reads its own ones.
+func (t *table) isSet(s step, variable int) bool {
+	begins := check.IsFunction(t.Nodes[s.from].Kind) && t.Nodes[variable].Kind == api.KParam
+	return begins || variable == t.sets[s.setter]
 }

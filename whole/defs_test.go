@@ -76,6 +76,9 @@ func (s sources) setBy(from, to, variable int) int {
 	if s.kind(variable) == api.KCaseRecv && s.parents[variable] == from && s.begin(s.nodes[variable].Kids[1]) == to {
 		return variable
 	}
+	if s.kind(variable) == api.KParam && isBody(s.kind(from)) {
+		return variable
+	}
 	return -1
 }
 
@@ -85,9 +88,6 @@ func (s sources) back(station, variable int, seen map[int]bool) []int {
 		return nil
 	}
 	seen[station] = true
-	if s.kind(variable) == api.KParam && isBody(s.kind(station)) {
-		return []int{variable}
-	}
 	var out []int
 	for _, from := range s.ahead[station] {
 		if by := s.setBy(from, station, variable); by >= 0 {

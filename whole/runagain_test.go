@@ -193,7 +193,7 @@ func (m *machine) enter(s *strand, f *routine, values []any) {
 		params = append([]int{n.Kids[0]}, params...)
 	}
 	for i, v := range append(slices.Clone(f.ahead), values...) {
-		inner[params[i]] = &cell{held: v, by: params[i]}
+		inner[params[i]] = &cell{v, params[i], 1}
 	}
 	var zero any
 	if len(sig.Kids) > sig.Num {
