@@ -36,6 +36,22 @@ func IsFunction(kind int) bool {
 	return kind == api.KFunc || kind == api.KMethod || kind == api.KLit
 }
 
+// Functions answers of each node the function, method or literal around it, or -1.
+func (p Program) Functions() []int {
+	out := slices.Repeat([]int{-1}, len(p.Nodes))
+	// Who is around a node has a higher number.
+	for number, n := range slices.Backward(p.Nodes) {
+		function := out[number]
+		if IsFunction(n.Kind) {
+			function = number
+		}
+		for _, kid := range n.Kids {
+			out[kid] = function
+		}
+	}
+	return out
+}
+
 // sigAround answers the number of the KSig of the function or literal around a statement.
 func (c checker) sigAround(number int) int {
 	for _, outer := range c.outward(number) {

@@ -693,6 +693,19 @@ func TestUses(t *testing.T) {
 	}
 }
 
+// The function, method or literal that is nearest around a node; of these themselves what is around them.
+func TestFunctions(t *testing.T) {
+	// nodes: 0 struct, 1 pointer, 2 param, 3 sig, 4 block, 5 method, 6 sig, 7 sig, 8 number, 9 print, 10 block, 11 literal, 12 define, 13 block, 14 func
+	program, fault := Read("type A struct{};func(a *A)m(){};func main(){f:=func(){print(1)}}")
+	want := []int{-1, 5, 5, 5, 5, -1, 14, 11, 11, 11, 11, 14, 14, 14, -1, -1}
+	if got := program.Functions(); fault.Code != api.OK || !slices.Equal(got, want) {
+		t.Error(got, fault)
+	}
+	if got := (Program{}).Functions(); len(got) > 0 {
+		t.Error(got)
+	}
+}
+
 // What comes out is new memory each time.
 func TestAnswersAreNew(t *testing.T) {
 	text := inMain("x:=1;print(x)")

@@ -34,7 +34,7 @@ func read(text string) (table, api.Fault) {
 	none := slices.Repeat([]int{-1}, len(program.Nodes))
 	t := table{
 		Program:   program,
-		functions: slices.Clone(none),
+		functions: program.Functions(),
 		stations:  slices.Clone(none),
 		shared:    make([]int, len(none)),
 		reads:     slices.Clone(none),
@@ -47,17 +47,15 @@ func read(text string) (table, api.Fault) {
 	return t, api.Fault{}
 }
 
-// lookAround finds where nodes stand: who is around a node has a higher number.
+// lookAround finds in which stations nodes stand: who is around a node has a higher number.
 func (t *table) lookAround() {
 	for number, n := range slices.Backward(t.Nodes) {
-		function, station := t.functions[number], t.stations[number]
-		if check.IsFunction(n.Kind) {
-			function, station = number, number
-		} else if isStatement(n.Kind) {
+		station := t.stations[number]
+		if check.IsFunction(n.Kind) || isStatement(n.Kind) {
 			station = number
 		}
 		for _, kid := range n.Kids {
-			t.functions[kid], t.stations[kid] = function, station
+			t.stations[kid] = station
 		}
 	}
 }

@@ -23,11 +23,13 @@ type cell struct {
 type names map[int]*cell
 
 type object struct {
+	site   int // the node that made it
 	owner  string
 	fields map[string]*cell
 }
 
 type pipe struct {
+	site   int // the node that made it
 	room   int
 	zero   any
 	held   []any
@@ -35,9 +37,17 @@ type pipe struct {
 }
 
 type routine struct {
+	site  int // the node that made it, or the function whose name was used
 	node  int
 	names names
 	ahead []any
+}
+
+// spot is where values are: at a node, or inside of what a node made, in a field or (without a name) in a pipe.
+type spot struct {
+	node   int
+	inside bool
+	name   string
 }
 
 // job is something to do. Those of loops and calls are just places up to which break and return go.
@@ -82,6 +92,7 @@ type machine struct {
 	sizes   []int                               // of each pick how many there were
 	goes    func(way []int, station int)        // is told of each station, and those ahead of it in its call; perhaps nil
 	reads   func(way []int, name int, of *cell) // is told of each name that reads a variable, and the stations of its call; perhaps nil
+	sees    func(where spot, held any)          // is told of each value that comes somewhere; perhaps nil
 }
 
 func runAgain(text string, script []int) (api.Trace, api.Fault) {
@@ -108,12 +119,18 @@ func readAgain(text string) (machine, api.Fault) {
 func (m machine) run(script []int) (api.Trace, []int) {
 	m.script = slices.Clone(script)
 	main := slices.IndexFunc(m.nodes, func(n api.Node) bool { return n.Kind == api.KFunc && n.Text == "main" })
-	m.newStrand(&routine{node: main}, nil)
+	m.newStrand(&routine{site: main, node: main}, nil)
 	m.advance(m.strands[0])
 	for !m.over {
 		m.turn()
 	}
 	return m.trace, m.sizes
+}
+
+func (m *machine) see(where spot, held any) {
+	if m.sees != nil {
+		m.sees(where, held)
+	}
 }
 
 func (m *machine) finish(status, at int) {
@@ -194,6 +211,7 @@ func (m *machine) enter(s *strand, f *routine, values []any) {
 	}
 	for i, v := range append(slices.Clone(f.ahead), values...) {
 		inner[params[i]] = &cell{v, params[i], 1}
+		m.see(spot{node: params[i]}, v)
 	}
 	var zero any
 	if len(sig.Kids) > sig.Num {
@@ -258,7 +276,10 @@ func (m *machine) stmt(s *strand, node int, in names) {
 			s.plan(func() { m.stmt(s, line, inner) })
 		}
 	case api.KDefine:
-		s.plan(kid(0), func() { in[node] = s.newCell(s.pop(), node) })
+		s.plan(kid(0), func() {
+			in[node] = s.newCell(s.pop(), node)
+			m.see(spot{node: node}, in[node].held)
+		})
 	case api.KAssign:
 		m.assign(s, node, in)
 	case api.KDo:
@@ -285,6 +306,8 @@ func (m *machine) stmt(s *strand, node int, in names) {
 		at := len(s.jobs) - len(n.Kids)
 		s.jobs = slices.Insert(s.jobs, at, job{do: func() {
 			v := s.pop()
+			kids := m.nodes[s.way()[0]].Kids
+			m.see(spot{node: kids[len(kids)-2]}, v)
 			s.held = s.held[:s.back("call").tall]
 			m.leave(s)
 			s.push(v)
@@ -314,17 +337,22 @@ func (m *machine) assign(s *strand, node int, in names) {
 	left := m.nodes[n.Kids[0]]
 	value := func() { m.expr(s, n.Kids[1], in) }
 	if left.Kind == api.KName {
-		s.plan(value, func() { *in[m.uses[n.Kids[0]]] = *s.newCell(s.pop(), node) })
+		use := m.uses[n.Kids[0]]
+		s.plan(value, func() {
+			*in[use] = *s.newCell(s.pop(), node)
+			m.see(spot{node: use}, in[use].held)
+		})
 		return
 	}
 	s.plan(func() { m.expr(s, left.Kids[0], in) }, value, func() {
 		v := s.pop()
-		x := s.pop()
-		if x == nil {
+		x, is := s.pop().(*object)
+		if !is {
 			m.finish(api.Fell, n.Kids[0])
 			return
 		}
-		x.(*object).fields[left.Text].held = v
+		x.fields[left.Text].held = v
+		m.see(spot{x.site, true, left.Text}, v)
 	})
 }
 
@@ -385,6 +413,9 @@ func (m *machine) selects(s *strand, node int, in names) {
 		s.after = func(picked int, held any) {
 			inner := maps.Clone(in)
 			inner[picked] = s.newCell(held, picked)
+			if m.nodes[picked].Kind == api.KCaseRecv {
+				m.see(spot{node: picked}, held)
+			}
 			kids := m.nodes[picked].Kids
 			s.plan(func() { m.stmt(s, kids[len(kids)-1], inner) })
 		}
@@ -416,6 +447,8 @@ func (m *machine) expr(s *strand, node int, in names) {
 	}
 	n := m.nodes[node]
 	first := func() { m.expr(s, n.Kids[0], in) }
+	// Behind all that is planned now.
+	s.plan(func() { m.see(spot{node: node}, s.held[len(s.held)-1]) })
 	switch n.Kind {
 	case api.KNumber:
 		s.push(int64(n.Num))
@@ -425,7 +458,7 @@ func (m *machine) expr(s *strand, node int, in names) {
 		s.push(nil)
 	case api.KName:
 		if use := m.uses[node]; m.nodes[use].Kind == api.KFunc {
-			s.push(&routine{node: use})
+			s.push(&routine{site: use, node: use})
 		} else {
 			if m.reads != nil {
 				m.reads(s.way(), node, in[use])
@@ -433,11 +466,11 @@ func (m *machine) expr(s *strand, node int, in names) {
 			s.push(in[use].held)
 		}
 	case api.KLit:
-		s.push(&routine{node: node, names: maps.Clone(in)})
+		s.push(&routine{site: node, node: node, names: maps.Clone(in)})
 	case api.KNew:
-		s.push(m.newObject(n.Text))
+		s.push(m.newObject(node))
 	case api.KMake:
-		s.push(&pipe{room: n.Num, zero: m.zeroOf(n.Kids[0])})
+		s.push(&pipe{site: node, room: n.Num, zero: m.zeroOf(n.Kids[0])})
 	case api.KNot:
 		s.plan(first, func() { s.push(s.pop() != true) })
 	case api.KNeg:
@@ -489,8 +522,9 @@ func (m *machine) others(s *strand, node int, in names) {
 	}
 }
 
-func (m *machine) newObject(owner string) *object {
-	x := &object{owner: owner, fields: map[string]*cell{}}
+func (m *machine) newObject(site int) *object {
+	owner := m.nodes[site].Text
+	x := &object{site: site, owner: owner, fields: map[string]*cell{}}
 	for _, n := range m.nodes {
 		if n.Kind == api.KStruct && n.Text == owner {
 			for _, field := range n.Kids {
@@ -512,7 +546,7 @@ func (m *machine) dot(s *strand, node int, ahead any) {
 	}
 	if of, is := strings.CutPrefix(typ, "*"); is {
 		if method := find(of); method >= 0 {
-			s.push(&routine{node: method, ahead: []any{ahead}})
+			s.push(&routine{site: node, node: method, ahead: []any{ahead}})
 			return
 		}
 	}
@@ -522,7 +556,7 @@ func (m *machine) dot(s *strand, node int, ahead any) {
 	case typ[0] == '*':
 		s.push(x.fields[n.Text].held)
 	default:
-		s.push(&routine{node: find(x.owner), ahead: []any{ahead}})
+		s.push(&routine{site: node, node: find(x.owner), ahead: []any{ahead}})
 	}
 }
 

@@ -120,6 +120,7 @@ func (m *machine) meeting(s *strand, e end) func() {
 	case e.sends && len(c.held) < c.room:
 		return func() {
 			c.held = append(c.held, e.held)
+			m.see(spot{node: c.site, inside: true}, e.held)
 			goOn(api.EvSend, e.held)
 		}
 	case !e.sends && len(c.held) > 0:
@@ -145,9 +146,11 @@ func (m *machine) meeting(s *strand, e end) func() {
 
 func (m *machine) handOver(s *strand, e end, other *strand, b end) {
 	if e.sends {
+		m.see(spot{node: e.pipe.site, inside: true}, e.held)
 		m.say(api.EvSend, s, e.node, e.held)
 		m.say(api.EvRecv, other, b.node, e.held)
 	} else {
+		m.see(spot{node: e.pipe.site, inside: true}, b.held)
 		m.say(api.EvSend, other, b.node, b.held)
 		m.say(api.EvRecv, s, e.node, b.held)
 	}
