@@ -7,7 +7,7 @@ import (
 )
 
 // rule lays down what a node says of sets. A program that may be lets things just come to where their types fit: so ahead of a field stand but KNew of its struct, ahead of an interface's method but KNew of structs that have it.
-func (s *solver) rule(number int) {
+func (s *Solver) rule(number int) {
 	n := s.Nodes[number]
 	switch n.Kind {
 	case api.KNew, api.KMake, api.KLit:
@@ -28,7 +28,7 @@ func (s *solver) rule(number int) {
 		s.assert(number)
 	case api.KReturn:
 		if len(n.Kids) > 0 {
-			s.within(at(n.Kids[0]), at(s.sig(s.functions[number])))
+			s.within(at(n.Kids[0]), at(s.sig(s.Around(number))))
 		}
 	case api.KCall:
 		s.each(at(n.Kids[0]), func(site int) { s.callBy(number, site) })
@@ -36,12 +36,12 @@ func (s *solver) rule(number int) {
 }
 
 // sig answers the number of a function's, method's or literal's KSig.
-func (s *solver) sig(function int) int {
+func (s *Solver) sig(function int) int {
 	kids := s.Nodes[function].Kids
 	return kids[len(kids)-2]
 }
 
-func (s *solver) name(number int) {
+func (s *Solver) name(number int) {
 	use := s.Uses[number]
 	if s.Nodes[use].Kind == api.KFunc {
 		s.put(use, s.set(at(number)))
@@ -50,7 +50,7 @@ func (s *solver) name(number int) {
 	s.within(at(use), at(number))
 }
 
-func (s *solver) assign(left, value int) {
+func (s *Solver) assign(left, value int) {
 	n := s.Nodes[left]
 	if n.Kind == api.KName {
 		s.within(at(value), at(s.Uses[left]))
@@ -59,7 +59,7 @@ func (s *solver) assign(left, value int) {
 	s.each(at(n.Kids[0]), func(site int) { s.within(at(value), inField(site, n.Text)) })
 }
 
-func (s *solver) dot(number int) {
+func (s *Solver) dot(number int) {
 	n := s.Nodes[number]
 	ahead := n.Kids[0]
 	if s.Field(s.Texts[ahead], n.Text) < 0 {
@@ -70,7 +70,7 @@ func (s *solver) dot(number int) {
 }
 
 // assert lets through what is of the type that is asked for.
-func (s *solver) assert(number int) {
+func (s *Solver) assert(number int) {
 	target := s.set(at(number))
 	s.each(at(s.Nodes[number].Kids[0]), func(site int) {
 		if s.Texts[site] == s.Texts[number] {
@@ -80,7 +80,7 @@ func (s *solver) assert(number int) {
 }
 
 // callBy lets a KCall call what the thing of a site is.
-func (s *solver) callBy(number, site int) {
+func (s *Solver) callBy(number, site int) {
 	n := s.Nodes[site]
 	if n.Kind != api.KDot {
 		s.canCall(number, site)
@@ -101,17 +101,17 @@ func (s *solver) callBy(number, site int) {
 }
 
 // method answers the number of a KMethod of a type that is "*" and a struct's name.
-func (s *solver) method(typ, name string) int {
-	return s.functions[s.Method(typ, name)]
+func (s *Solver) method(typ, name string) int {
+	return s.Around(s.Method(typ, name))
 }
 
 // own answers the place of a KMethod's own KParam.
-func (s *solver) own(method int) place {
+func (s *Solver) own(method int) place {
 	return at(s.Nodes[method].Kids[0])
 }
 
 // canCall hands over and back what a KCall and a function do. They are joined once, though the function may come to the call by several sites.
-func (s *solver) canCall(number, function int) {
+func (s *Solver) canCall(number, function int) {
 	joined := call{number, function}
 	if _, is := s.calls[joined]; is {
 		return

@@ -1,6 +1,9 @@
 package points
 
 import (
+	"cmp"
+	"slices"
+
 	"ravel/api"
 	"ravel/check"
 )
@@ -37,8 +40,8 @@ type call struct {
 	node, function int
 }
 
-// solver finds the least sets: a site comes to a place just where a rule puts it there.
-type solver struct {
+// Solver finds the least sets: a site comes to a place just where a rule puts it there.
+type Solver struct {
 	check.Program
 	functions []int // of each node the function, method or literal around it, or -1
 	sets      map[place]*set
@@ -46,13 +49,13 @@ type solver struct {
 	calls     map[call]struct{}
 }
 
-// solve answers what can be where in a text's program, or what is wrong with the text; then the solver is zero.
-func solve(text string) (*solver, api.Fault) {
+// Read answers what can be where in a text's program, or what is wrong with the text; then the solver is zero. So who goes on from there solves a text once.
+func Read(text string) (*Solver, api.Fault) {
 	program, fault := check.Read(text)
 	if fault.Code != api.OK {
-		return &solver{}, fault
+		return &Solver{}, fault
 	}
-	s := &solver{
+	s := &Solver{
 		Program:   program,
 		functions: program.Functions(),
 		sets:      map[place]*set{},
@@ -65,8 +68,25 @@ func solve(text string) (*solver, api.Fault) {
 	return s, api.Fault{}
 }
 
+// Calls answers the pairs of a KCall and a function, method or literal that it can call, rising.
+func (s *Solver) Calls() [][2]int {
+	var out [][2]int
+	for joined := range s.calls {
+		out = append(out, [2]int{joined.node, joined.function})
+	}
+	slices.SortFunc(out, func(a, b [2]int) int {
+		return cmp.Or(cmp.Compare(a[0], b[0]), cmp.Compare(a[1], b[1]))
+	})
+	return out
+}
+
+// Around answers the function, method or literal around a node, or -1.
+func (s *Solver) Around(node int) int {
+	return s.functions[node]
+}
+
 // settle does the tasks of sets that have grown, until none grows any more. Tasks just let sets wait, so that calls do not get deep, however far things go.
-func (s *solver) settle() {
+func (s *Solver) settle() {
 	for len(s.grown) > 0 {
 		round := s.grown
 		s.grown = nil
@@ -82,7 +102,7 @@ func (s *solver) settle() {
 }
 
 // set answers what can be at a place.
-func (s *solver) set(p place) *set {
+func (s *Solver) set(p place) *set {
 	found, is := s.sets[p]
 	if !is {
 		found = &set{sites: noSites(len(s.Nodes)), told: noSites(len(s.Nodes))}
@@ -92,12 +112,12 @@ func (s *solver) set(p place) *set {
 }
 
 // put lays a site into a set.
-func (s *solver) put(site int, to *set) {
+func (s *Solver) put(site int, to *set) {
 	s.wait(to, to.sites.add(site))
 }
 
 // wait lets a set wait, if it has grown.
-func (s *solver) wait(of *set, hasGrown bool) {
+func (s *Solver) wait(of *set, hasGrown bool) {
 	if hasGrown && !of.waits {
 		of.waits = true
 		s.grown = append(s.grown, of)
@@ -105,14 +125,14 @@ func (s *solver) wait(of *set, hasGrown bool) {
 }
 
 // hear lets a task be done once with each site of a place, also with those that come later: of those that are not told yet it hears with all other tasks.
-func (s *solver) hear(p place, task func(fresh sites)) {
+func (s *Solver) hear(p place, task func(fresh sites)) {
 	of := s.set(p)
 	of.tasks = append(of.tasks, task)
 	task(of.told)
 }
 
 // each lets a task be done with each site of a place, one by one.
-func (s *solver) each(p place, task func(site int)) {
+func (s *Solver) each(p place, task func(site int)) {
 	s.hear(p, func(fresh sites) {
 		for _, site := range fresh.list() {
 			task(site)
@@ -121,7 +141,7 @@ func (s *solver) each(p place, task func(site int)) {
 }
 
 // within lets all that can be at one place be at another one, too.
-func (s *solver) within(from, to place) {
+func (s *Solver) within(from, to place) {
 	target := s.set(to)
 	s.hear(from, func(fresh sites) { s.wait(target, target.sites.join(fresh)) })
 }

@@ -22,14 +22,15 @@ type spots struct {
 	types []string
 	uses  []int
 	held  map[spot]map[int]bool
-	more  bool // something has come in this round
+	pairs map[[2]int]bool // a KCall, and what it can call
+	more  bool            // something has come in this round
 }
 
 func newSpots(text string) *spots {
 	nodes, _ := syntax.Parse(text)
 	types, _ := check.Check(text)
 	uses, _ := check.Uses(text)
-	s := &spots{newOutside(nodes), types, uses, map[spot]map[int]bool{}, true}
+	s := &spots{newOutside(nodes), types, uses, map[spot]map[int]bool{}, map[[2]int]bool{}, true}
 	for s.more {
 		s.more = false
 		for number := range nodes {
@@ -147,6 +148,7 @@ func (s *spots) calls(number, site int) {
 }
 
 func (s *spots) enter(number, function int) {
+	s.pairs[[2]int{number, function}] = true
 	sig := s.sig(function)
 	for place, value := range s.nodes[number].Kids[1:] {
 		s.copy(spot{node: value}, spot{node: s.nodes[sig].Kids[place]})

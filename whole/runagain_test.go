@@ -89,10 +89,11 @@ type machine struct {
 	strands []*strand
 	over    bool
 	trace   api.Trace
-	sizes   []int                               // of each pick how many there were
-	goes    func(way []int, station int)        // is told of each station, and those ahead of it in its call; perhaps nil
-	reads   func(way []int, name int, of *cell) // is told of each name that reads a variable, and the stations of its call; perhaps nil
-	sees    func(where spot, held any)          // is told of each value that comes somewhere; perhaps nil
+	sizes   []int                                // of each pick how many there were
+	goes    func(way []int, station int)         // is told of each station, and those ahead of it in its call; perhaps nil
+	reads   func(way []int, name int, of *cell)  // is told of each name that reads a variable, and the stations of its call; perhaps nil
+	sees    func(where spot, held any)           // is told of each value that comes somewhere; perhaps nil
+	calls   func(within []int, node, called int) // is told of each call that is begun, also by a go: the functions in which the strand is, the KCall, what is called; perhaps nil
 }
 
 func runAgain(text string, script []int) (api.Trace, api.Fault) {
@@ -131,6 +132,17 @@ func (m *machine) see(where spot, held any) {
 	if m.sees != nil {
 		m.sees(where, held)
 	}
+}
+
+func (m *machine) call(s *strand, node int, f *routine) {
+	if m.calls == nil {
+		return
+	}
+	var within []int
+	for _, way := range s.ways {
+		within = append(within, way[0])
+	}
+	m.calls(within, node, f.node)
 }
 
 func (m *machine) finish(status, at int) {
@@ -507,6 +519,7 @@ func (m *machine) others(s *strand, node int, in names) {
 				m.finish(api.Fell, node)
 				return
 			}
+			m.call(s, node, f)
 			m.enter(s, f, values)
 		})
 	case api.KBinary:

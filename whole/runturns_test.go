@@ -99,6 +99,7 @@ func (m *machine) begin(s *strand) {
 		return
 	}
 	m.say(api.EvGo, s, s.node, int64(len(m.strands)))
+	m.call(s, m.nodes[s.node].Kids[0], s.call)
 	fresh := m.newStrand(s.call, s.values)
 	m.advance(s)
 	m.advance(fresh)
