@@ -68,6 +68,15 @@ func Read(text string) (*Solver, api.Fault) {
 	return s, api.Fault{}
 }
 
+// Sites answers the sites of the things that can be at a node, rising.
+func (s *Solver) Sites(node int) []int {
+	found, is := s.sets[at(node)]
+	if !is {
+		return nil
+	}
+	return found.sites.list()
+}
+
 // Calls answers the pairs of a KCall and a function, method or literal that it can call, rising.
 func (s *Solver) Calls() [][2]int {
 	var out [][2]int
