@@ -38,23 +38,23 @@ func (s settings) of(variable int) []int {
 }
 
 // come answers of each station the settings ahead of it.
-func (t *table) come() []settings {
+func (t *Table) come() []settings {
 	ahead := make([]settings, len(t.Nodes))
 	for number := range ahead {
 		ahead[number] = settings{}
 	}
 	for number, n := range t.Nodes {
 		// What is handed over is there when the function begins. A param of an interface's method is of no function.
-		if function := t.functions[number]; n.Kind == api.KParam && function >= 0 && t.sets[number] >= 0 {
+		if function := t.functions[number]; n.Kind == api.KParam && function >= 0 && t.Sets[number] >= 0 {
 			ahead[function].put(setting{number, number})
 		}
 	}
-	settle(t.steps, func(s step) int { return len(ahead[s.from]) }, func(s step) {
-		behind := maps.Clone(ahead[s.from])
-		if variable := t.sets[s.setter]; variable >= 0 {
-			behind.put(setting{variable, s.setter})
+	settle(t.Steps, func(s Step) int { return len(ahead[s.From]) }, func(s Step) {
+		behind := maps.Clone(ahead[s.From])
+		if variable := t.Sets[s.Setter]; variable >= 0 {
+			behind.put(setting{variable, s.Setter})
 		}
-		maps.Copy(ahead[s.to], behind)
+		maps.Copy(ahead[s.To], behind)
 	})
 	return ahead
 }

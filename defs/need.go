@@ -16,21 +16,21 @@ func (v variables) has(variable int) bool {
 }
 
 // need answers of each station the variables that are needed ahead of it.
-func (t *table) need() []variables {
+func (t *Table) need() []variables {
 	ahead := make([]variables, len(t.Nodes))
 	for number := range ahead {
 		ahead[number] = variables{}
 	}
-	for name, variable := range t.reads {
+	for name, variable := range t.Reads {
 		if variable >= 0 {
 			ahead[t.stations[name]][variable] = struct{}{}
 		}
 	}
-	backward := slices.Clone(t.steps)
+	backward := slices.Clone(t.Steps)
 	slices.Reverse(backward)
-	settle(backward, func(s step) int { return len(ahead[s.to]) }, func(s step) {
+	settle(backward, func(s Step) int { return len(ahead[s.To]) }, func(s Step) {
 		// No step leads from a station to itself, so these are two maps.
-		here, there := ahead[s.from], ahead[s.to]
+		here, there := ahead[s.From], ahead[s.To]
 		for variable := range there {
 			if !t.isSet(s, variable) {
 				here[variable] = struct{}{}
@@ -41,7 +41,7 @@ func (t *table) need() []variables {
 }
 
 // isSet tells whether a variable is set when one goes along a step. Params are set where the function begins, and from there one comes just to who reads its own ones.
-func (t *table) isSet(s step, variable int) bool {
-	begins := check.IsFunction(t.Nodes[s.from].Kind) && t.Nodes[variable].Kind == api.KParam
-	return begins || variable == t.sets[s.setter]
+func (t *Table) isSet(s Step, variable int) bool {
+	begins := check.IsFunction(t.Nodes[s.From].Kind) && t.Nodes[variable].Kind == api.KParam
+	return begins || variable == t.Sets[s.Setter]
 }

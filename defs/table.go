@@ -9,36 +9,36 @@ import (
 	"ravel/flow"
 )
 
-// table has what is known of the variables of a program.
-type table struct {
+// Table has what is known of the variables of a program.
+type Table struct {
 	flow.Program
 	functions []int // of each node the function, method or literal around it, or -1
 	stations  []int // of each node the nearest station around it, or -1
 	shared    []int // of each node 1, if it is a shared variable, else 0
-	reads     []int // of each node the variable, not shared, that it reads, or -1
-	sets      []int // of each node the variable, not shared, that is set at it, or -1
-	steps     []step
+	Reads     []int // of each node the variable, not shared, that it reads, or -1
+	Sets      []int // of each node the variable, not shared, that is set at it, or -1
+	Steps     []Step
 }
 
-// step is an edge from one station to another one, and the node that may set something behind the first one and ahead of the other one: what it sets, if anything, sets tells.
-type step struct {
-	from, to, setter int
+// Step is an edge from one station to another one, and the node that may set something behind the first one and ahead of the other one: what it sets, if anything, Sets tells.
+type Step struct {
+	From, To, Setter int
 }
 
-// read answers the table of a text's program, or what is wrong with the text; then the table is zero.
-func read(text string) (table, api.Fault) {
+// Read answers the table of a text's program, or what is wrong with the text; then the table is zero. So who needs names, edges and variables reads a text once.
+func Read(text string) (Table, api.Fault) {
 	program, fault := flow.Read(text)
 	if fault.Code != api.OK {
-		return table{}, fault
+		return Table{}, fault
 	}
 	none := slices.Repeat([]int{-1}, len(program.Nodes))
-	t := table{
+	t := Table{
 		Program:   program,
 		functions: program.Functions(),
 		stations:  slices.Clone(none),
 		shared:    make([]int, len(none)),
-		reads:     slices.Clone(none),
-		sets:      slices.Clone(none),
+		Reads:     slices.Clone(none),
+		Sets:      slices.Clone(none),
 	}
 	t.lookAround()
 	t.share()
@@ -48,7 +48,7 @@ func read(text string) (table, api.Fault) {
 }
 
 // lookAround finds in which stations nodes stand: who is around a node has a higher number.
-func (t *table) lookAround() {
+func (t *Table) lookAround() {
 	for number, n := range slices.Backward(t.Nodes) {
 		station := t.stations[number]
 		if check.IsFunction(n.Kind) || isStatement(n.Kind) {
@@ -67,7 +67,7 @@ func isStatement(kind int) bool {
 }
 
 // share finds the shared variables. A name in another function than its variable's stands in a literal within that one.
-func (t *table) share() {
+func (t *Table) share() {
 	for name, use := range t.Uses {
 		if t.isVariable(use) && t.functions[name] != t.functions[use] {
 			t.shared[use] = 1
@@ -76,12 +76,12 @@ func (t *table) share() {
 }
 
 // isVariable tells whether what a name is of is a variable: else it is a function, or, if there is no name, nothing.
-func (t *table) isVariable(use int) bool {
+func (t *Table) isVariable(use int) bool {
 	return use >= 0 && t.Nodes[use].Kind != api.KFunc
 }
 
 // own answers what a name is of, if it is a variable that is not shared, else -1.
-func (t *table) own(use int) int {
+func (t *Table) own(use int) int {
 	if t.isVariable(use) && t.shared[use] == 0 {
 		return use
 	}
@@ -89,34 +89,34 @@ func (t *table) own(use int) int {
 }
 
 // touch finds what nodes read and set.
-func (t *table) touch() {
+func (t *Table) touch() {
 	for number, n := range t.Nodes {
-		t.reads[number] = t.own(t.Uses[number])
+		t.Reads[number] = t.own(t.Uses[number])
 		switch n.Kind {
 		case api.KDefine, api.KCaseRecv, api.KParam:
-			t.sets[number] = t.own(number)
+			t.Sets[number] = t.own(number)
 		case api.KAssign:
 			// A name that stands left was taken for one that reads: it has a lower number.
 			left := n.Kids[0]
-			t.sets[number], t.reads[left] = t.reads[left], -1
+			t.Sets[number], t.Reads[left] = t.Reads[left], -1
 		}
 	}
 }
 
 // join makes the steps, in the order of the text: so most of what one comes to stands behind. A round from a station to itself sets nothing, and is none.
-func (t *table) join() {
+func (t *Table) join() {
 	for _, edge := range t.Edges {
 		if from, to := edge[0], edge[1]; from != to {
-			t.steps = append(t.steps, step{from, to, t.setter(from, to)})
+			t.Steps = append(t.Steps, Step{from, to, t.setter(from, to)})
 		}
 	}
-	slices.SortStableFunc(t.steps, func(a, b step) int {
-		return cmp.Compare(t.Nodes[a.from].At, t.Nodes[b.from].At)
+	slices.SortStableFunc(t.Steps, func(a, b Step) int {
+		return cmp.Compare(t.Nodes[a.From].At, t.Nodes[b.From].At)
 	})
 }
 
 // setter answers the node that sets something when one goes on from a station to another one: of a select it is the case whose block begins there. Of cases with empty blocks nothing is read, so they need not be told apart.
-func (t *table) setter(from, to int) int {
+func (t *Table) setter(from, to int) int {
 	if t.Nodes[from].Kind != api.KSelect {
 		return from
 	}
@@ -131,7 +131,7 @@ func (t *table) setter(from, to int) int {
 }
 
 // settle hands on along steps what is known, until nothing is new. What is counted of a step just grows, so a step is gone along again only when there is more.
-func settle(steps []step, count func(s step) int, hand func(s step)) {
+func settle(steps []Step, count func(s Step) int, hand func(s Step)) {
 	handed := slices.Repeat([]int{-1}, len(steps))
 	for more := true; more; {
 		more = false

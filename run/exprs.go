@@ -4,6 +4,7 @@ import (
 	"strings"
 
 	"ravel/api"
+	"ravel/reckon"
 )
 
 // expr does an expression, and answers its value.
@@ -145,27 +146,12 @@ func (t *thread) binary(number int, s *scope) value {
 
 // reckon answers what an operator makes of two numbers.
 func (t *thread) reckon(number int, left, right int64) value {
-	switch t.Nodes[number].Text {
-	case "+":
-		return left + right
-	case "-":
-		return left - right
-	case "*":
-		return left * right
-	case "<":
-		return left < right
-	case "<=":
-		return left <= right
-	case ">":
-		return left > right
-	case ">=":
-		return left >= right
-	}
-	if right == 0 {
+	made, is := reckon.Two(t.Nodes[number].Text, left, right)
+	if !is {
 		t.fall(number)
 	}
-	if t.Nodes[number].Text == "/" {
-		return left / right
+	if t.Texts[number] == "bool" {
+		return made == 1
 	}
-	return left % right
+	return made
 }
