@@ -8,16 +8,16 @@ import (
 	"ravel/points"
 )
 
-// graph has who can come to whom by calls.
-type graph struct {
+// Graph has who can come to whom by calls.
+type Graph struct {
 	*points.Solver
 	next [][]int // of each function those that calls in it can call, perhaps one several times
 }
 
-// read answers the graph of a text's program, or what is wrong with the text; then nothing is in the graph.
-func read(text string) (graph, api.Fault) {
+// Read answers the graph of a text's program, or what is wrong with the text; then nothing is in the graph. So who goes on from there looks for calls once.
+func Read(text string) (Graph, api.Fault) {
 	solver, fault := points.Read(text)
-	g := graph{Solver: solver, next: make([][]int, len(solver.Nodes))}
+	g := Graph{Solver: solver, next: make([][]int, len(solver.Nodes))}
 	for _, pair := range g.Calls() {
 		caller := g.Around(pair[0])
 		g.next[caller] = append(g.next[caller], pair[1])
@@ -26,7 +26,7 @@ func read(text string) (graph, api.Fault) {
 }
 
 // behind answers of each node 1, if one comes there from a function by one call or more, else 0.
-func (g graph) behind(function int) []int {
+func (g Graph) behind(function int) []int {
 	out := make([]int, len(g.Nodes))
 	for todo := []int{function}; len(todo) > 0; {
 		from := todo[len(todo)-1]
@@ -42,7 +42,7 @@ func (g graph) behind(function int) []int {
 }
 
 // met answers of each node 1, if it is main, or behind it, else 0.
-func (g graph) met() []int {
+func (g Graph) met() []int {
 	main := slices.IndexFunc(g.Nodes, func(n api.Node) bool { return n.Kind == api.KFunc && n.Text == "main" })
 	if main < 0 {
 		// Just a text with a fault has none.
@@ -54,7 +54,7 @@ func (g graph) met() []int {
 }
 
 // rings answers the lists of those that can come to each other, and so to themselves again.
-func (g graph) rings() [][]int {
+func (g Graph) rings() [][]int {
 	behind := make([][]int, len(g.Nodes))
 	for number, n := range g.Nodes {
 		if check.IsFunction(n.Kind) {

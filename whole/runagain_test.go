@@ -94,6 +94,7 @@ type machine struct {
 	reads   func(way []int, name int, of *cell)  // is told of each name that reads a variable, and the stations of its call; perhaps nil
 	sees    func(where spot, held any)           // is told of each value that comes somewhere; perhaps nil
 	calls   func(within []int, node, called int) // is told of each call that is begun, also by a go: the functions in which the strand is, the KCall, what is called; perhaps nil
+	does    func(within []int, node int)         // is told of each node that is an event's, or a KPanic at which the run falls: the functions in which the strand is; perhaps nil
 }
 
 func runAgain(text string, script []int) (api.Trace, api.Fault) {
@@ -135,14 +136,24 @@ func (m *machine) see(where spot, held any) {
 }
 
 func (m *machine) call(s *strand, node int, f *routine) {
-	if m.calls == nil {
-		return
+	if m.calls != nil {
+		m.calls(s.within(), node, f.node)
 	}
-	var within []int
+}
+
+func (m *machine) done(s *strand, node int) {
+	if m.does != nil {
+		m.does(s.within(), node)
+	}
+}
+
+// within answers the functions in which a strand is, the outermost first.
+func (s *strand) within() []int {
+	var out []int
 	for _, way := range s.ways {
-		within = append(within, way[0])
+		out = append(out, way[0])
 	}
-	m.calls(within, node, f.node)
+	return out
 }
 
 func (m *machine) finish(status, at int) {
@@ -160,6 +171,9 @@ func (m *machine) say(kind int, s *strand, node int, held any) {
 		if x {
 			num = 1
 		}
+	}
+	if node >= 0 {
+		m.done(s, node)
 	}
 	m.trace.Events = append(m.trace.Events, api.Event{Kind: kind, Thread: slices.Index(m.strands, s), Node: node, Num: num})
 }
@@ -391,7 +405,10 @@ func (m *machine) act(s *strand, node int, in names) {
 	case api.KPrint:
 		s.plan(first, func() { stand("print") })
 	case api.KPanic:
-		s.plan(first, func() { m.finish(api.Fell, node) })
+		s.plan(first, func() {
+			m.done(s, node)
+			m.finish(api.Fell, node)
+		})
 	case api.KSelect:
 		m.selects(s, node, in)
 	}
