@@ -62,14 +62,14 @@ func (t *thread) name(number int, s *scope) value {
 	if t.Nodes[use].Kind == api.KFunc {
 		return &function{node: use}
 	}
-	return s.find(use).held
+	return t.touch(Reads, number, s.find(use)).held
 }
 
 // newThing makes a thing of a struct.
 func (t *thread) newThing(owner string) *thing {
 	made := thing{owner: owner}
 	for _, field := range t.fields(owner) {
-		made.fields = append(made.fields, variable{t.zero(t.Nodes[field].Kids[0])})
+		made.fields = append(made.fields, variable{held: t.zero(t.Nodes[field].Kids[0])})
 	}
 	return &made
 }
@@ -94,7 +94,7 @@ func (t *thread) dot(number int, s *scope) value {
 	ahead := t.expr(n.Kids[0], s)
 	owner, isPointer := strings.CutPrefix(t.Texts[n.Kids[0]], "*")
 	if isPointer && t.place(owner, n.Text) >= 0 {
-		return t.field(number, ahead).held
+		return t.touch(Reads, number, t.field(number, ahead)).held
 	}
 	if !isPointer {
 		owner = t.there(number, ahead).owner

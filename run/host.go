@@ -19,6 +19,7 @@ type host struct {
 	ended   []bool // of each thread whether it is at its end, and done
 	all     sync.WaitGroup
 	over    bool
+	journal *journal // perhaps nil: nobody wants to know
 	trace   api.Trace
 }
 
@@ -40,6 +41,8 @@ func (h *host) run() api.Trace {
 func (h *host) start(f *function, values []value) {
 	t := &thread{
 		program: h.program,
+		self:    len(h.threads),
+		journal: h.journal,
 		steps:   &h.steps,
 		marks:   make(chan mark),
 		answers: make(chan answer),
@@ -166,6 +169,7 @@ func (h *host) shut(number int, m mark) {
 		return
 	}
 	c.closed = true
+	h.journal.use(Shuts, number, arm{node: m.node, channel: c})
 	h.tell(api.EvClose, number, m.node, 0)
 	h.goOn(number, answer{})
 }
@@ -176,6 +180,7 @@ func (h *host) begin(number int, m mark) {
 		h.end(api.Out, m.node)
 		return
 	}
+	h.journal.write(Deed{Doing: Begins, Thread: number, Node: m.node, On: next})
 	h.tell(api.EvGo, number, m.node, next)
 	h.start(m.called, m.values)
 	h.goOn(number, answer{})

@@ -87,9 +87,11 @@ func (h *host) choose(number int, m mark) {
 		h.meet(number, a)
 	case a.sends:
 		c.held = append(c.held, a.held)
+		h.journal.use(Sends, number, a)
 		h.tell(api.EvSend, number, a.node, told(a.held))
 		h.goOn(number, answer{node: a.node})
 	default:
+		h.journal.use(c.taking(), number, a)
 		held := c.take()
 		h.tell(api.EvRecv, number, a.node, told(held))
 		h.goOn(number, answer{node: a.node, held: held})
@@ -103,10 +105,19 @@ func (h *host) meet(number int, a arm) {
 	if b.sends {
 		sender, sent, taker, taken = other, b, number, a
 	}
+	h.journal.write(Deed{Doing: Meets, Thread: sender, Node: sent.node, On: taker})
 	h.tell(api.EvSend, sender, sent.node, told(sent.held))
 	h.tell(api.EvRecv, taker, taken.node, told(sent.held))
 	h.goOn(number, answer{node: a.node, held: b.held})
 	h.goOn(other, answer{node: b.node, held: a.held})
+}
+
+// taking answers what a receive that need not wait does.
+func (c *channel) taking() Doing {
+	if len(c.held) == 0 {
+		return FindsShut
+	}
+	return Takes
 }
 
 // take answers what was sent first, or the zero value.

@@ -30,7 +30,7 @@ func (t *thread) stmt(number int, s *scope) ending {
 	case api.KBreak:
 		return breaks
 	case api.KAssign:
-		t.assign(n, s)
+		t.assign(number, s)
 	case api.KDo:
 		t.expr(n.Kids[0], s)
 	case api.KSend:
@@ -95,16 +95,17 @@ func (t *thread) giveBack(n api.Node, s *scope) {
 }
 
 // assign does not begin what stands left: of a field just what stands ahead of its `.` is a value.
-func (t *thread) assign(n api.Node, s *scope) {
-	left := n.Kids[0]
+func (t *thread) assign(number int, s *scope) {
+	kids := t.Nodes[number].Kids
+	left := kids[0]
 	if t.Nodes[left].Kind == api.KName {
-		held := t.expr(n.Kids[1], s)
-		s.find(t.Uses[left]).held = held
+		held := t.expr(kids[1], s)
+		t.touch(Writes, number, s.find(t.Uses[left])).held = held
 		return
 	}
 	ahead := t.expr(t.Nodes[left].Kids[0], s)
-	held := t.expr(n.Kids[1], s)
-	t.field(left, ahead).held = held
+	held := t.expr(kids[1], s)
+	t.touch(Writes, number, t.field(left, ahead)).held = held
 }
 
 // selects stands at the mark of a KSelect, and does the case that is picked.

@@ -38,7 +38,9 @@ type runOver struct{}
 // thread is a thread of a program: a goroutine, which goes on while it is let.
 type thread struct {
 	program
+	self    int           // its number
 	steps   *atomic.Int64 // of all threads
+	journal *journal      // likewise; perhaps nil
 	marks   chan mark
 	answers chan answer
 	calls   int   // that are within one another
@@ -83,6 +85,11 @@ func (t *thread) begin(number int) {
 	if t.steps.Add(1) > api.MaxSteps {
 		t.stand(mark{node: number, status: api.Out})
 	}
+}
+
+// touch tells that the thread reads or writes a variable or a field at a node, and answers it.
+func (t *thread) touch(does Doing, number int, v *variable) *variable {
+	return t.journal.touch(does, t.self, number, v)
 }
 
 // call does a function within those that the thread does already.

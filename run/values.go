@@ -7,7 +7,8 @@ type value any
 
 // variable has a value, which can be another one later.
 type variable struct {
-	held value
+	held   value
+	number int // in the journal; 0: it did not come up yet
 }
 
 // scope is a variable, that of a KDefine, a KCaseRecv or a param, and those that were there ahead of it. It is never put elsewhere, so who has it uses just these, whatever is made later.
@@ -19,7 +20,7 @@ type scope struct {
 
 // with answers these variables and one more.
 func (s *scope) with(of int, held value) *scope {
-	return &scope{variable: variable{held}, of: of, outer: s}
+	return &scope{variable: variable{held: held}, of: of, outer: s}
 }
 
 // find answers the variable of a node; in a program that may be, it is there.
@@ -44,6 +45,7 @@ type channel struct {
 	closed  bool
 	senders crowd // who stands to send on it
 	takers  crowd // who stands to receive from it
+	number  int   // in the journal; 0: it did not come up yet
 }
 
 // crowd has threads: the bits of their numbers.

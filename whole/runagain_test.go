@@ -95,6 +95,17 @@ type machine struct {
 	sees    func(where spot, held any)           // is told of each value that comes somewhere; perhaps nil
 	calls   func(within []int, node, called int) // is told of each call that is begun, also by a go: the functions in which the strand is, the KCall, what is called; perhaps nil
 	does    func(within []int, node int)         // is told of each node that is an event's, or a KPanic at which the run falls: the functions in which the strand is; perhaps nil
+	acts    func(a act)                          // is told of each act; perhaps nil
+}
+
+// act is something that a strand does to what others have to do with, too.
+type act struct {
+	what   string // "read", "write", "go", "send", "take", "shut", "empty": take from a pipe that is closed and empty
+	strand int
+	node   int   // of a read or a write
+	cell   *cell // likewise
+	pipe   *pipe
+	other  int // of a go: the strand that begins
 }
 
 func runAgain(text string, script []int) (api.Trace, api.Fault) {
@@ -144,6 +155,13 @@ func (m *machine) call(s *strand, node int, f *routine) {
 func (m *machine) done(s *strand, node int) {
 	if m.does != nil {
 		m.does(s.within(), node)
+	}
+}
+
+func (m *machine) act(s *strand, a act) {
+	if m.acts != nil {
+		a.strand = slices.Index(m.strands, s)
+		m.acts(a)
 	}
 }
 
@@ -339,7 +357,7 @@ func (m *machine) stmt(s *strand, node int, in names) {
 			s.push(v)
 		}})
 	default:
-		m.act(s, node, in)
+		m.marked(s, node, in)
 	}
 }
 
@@ -366,6 +384,7 @@ func (m *machine) assign(s *strand, node int, in names) {
 		use := m.uses[n.Kids[0]]
 		s.plan(value, func() {
 			*in[use] = *s.newCell(s.pop(), node)
+			m.act(s, act{what: "write", node: node, cell: in[use]})
 			m.see(spot{node: use}, in[use].held)
 		})
 		return
@@ -378,12 +397,13 @@ func (m *machine) assign(s *strand, node int, in names) {
 			return
 		}
 		x.fields[left.Text].held = v
+		m.act(s, act{what: "write", node: node, cell: x.fields[left.Text]})
 		m.see(spot{x.site, true, left.Text}, v)
 	})
 }
 
-// act puts the jobs of statements that are marks, or fall.
-func (m *machine) act(s *strand, node int, in names) {
+// marked puts the jobs of statements that are marks, or fall.
+func (m *machine) marked(s *strand, node int, in names) {
 	n := m.nodes[node]
 	stand := func(halt string) { s.halt, s.node = halt, node }
 	first := func() { m.expr(s, n.Kids[0], in) }
@@ -492,6 +512,7 @@ func (m *machine) expr(s *strand, node int, in names) {
 			if m.reads != nil {
 				m.reads(s.way(), node, in[use])
 			}
+			m.act(s, act{what: "read", node: node, cell: in[use]})
 			s.push(in[use].held)
 		}
 	case api.KLit:
@@ -584,6 +605,7 @@ func (m *machine) dot(s *strand, node int, ahead any) {
 	case x == nil:
 		m.finish(api.Fell, node)
 	case typ[0] == '*':
+		m.act(s, act{what: "read", node: node, cell: x.fields[n.Text]})
 		s.push(x.fields[n.Text].held)
 	default:
 		s.push(&routine{site: node, node: find(x.owner), ahead: []any{ahead}})

@@ -89,6 +89,7 @@ func (m *machine) shut(s *strand) {
 		return
 	}
 	c.closed = true
+	m.act(s, act{what: "shut", pipe: c})
 	m.say(api.EvClose, s, s.node, nil)
 	m.advance(s)
 }
@@ -100,6 +101,7 @@ func (m *machine) begin(s *strand) {
 	}
 	m.say(api.EvGo, s, s.node, int64(len(m.strands)))
 	m.call(s, m.nodes[s.node].Kids[0], s.call)
+	m.act(s, act{what: "go", other: len(m.strands)})
 	fresh := m.newStrand(s.call, s.values)
 	m.advance(s)
 	m.advance(fresh)
@@ -122,16 +124,21 @@ func (m *machine) meeting(s *strand, e end) func() {
 		return func() {
 			c.held = append(c.held, e.held)
 			m.see(spot{node: c.site, inside: true}, e.held)
+			m.act(s, act{what: "send", pipe: c})
 			goOn(api.EvSend, e.held)
 		}
 	case !e.sends && len(c.held) > 0:
 		return func() {
 			held := c.held[0]
 			c.held = c.held[1:]
+			m.act(s, act{what: "take", pipe: c})
 			goOn(api.EvRecv, held)
 		}
 	case !e.sends && c.closed:
-		return func() { goOn(api.EvRecv, c.zero) }
+		return func() {
+			m.act(s, act{what: "empty", pipe: c})
+			goOn(api.EvRecv, c.zero)
+		}
 	case c.room > 0:
 		return nil
 	}
@@ -150,10 +157,14 @@ func (m *machine) handOver(s *strand, e end, other *strand, b end) {
 		m.see(spot{node: e.pipe.site, inside: true}, e.held)
 		m.say(api.EvSend, s, e.node, e.held)
 		m.say(api.EvRecv, other, b.node, e.held)
+		m.act(s, act{what: "send", pipe: e.pipe})
+		m.act(other, act{what: "take", pipe: e.pipe})
 	} else {
 		m.see(spot{node: e.pipe.site, inside: true}, b.held)
 		m.say(api.EvSend, other, b.node, b.held)
 		m.say(api.EvRecv, s, e.node, b.held)
+		m.act(other, act{what: "send", pipe: e.pipe})
+		m.act(s, act{what: "take", pipe: e.pipe})
 	}
 	s.after(e.node, b.held)
 	other.after(b.node, e.held)
