@@ -26,11 +26,11 @@ type solver struct {
 	known []api.Known // of each expression what it was when it was looked at last
 }
 
-// read answers what is known of a text's program, or what is wrong with the text; then the solver is zero.
+// read answers what is known of a text's program, or what is wrong with the text; then there is no solver.
 func read(text string) (*solver, api.Fault) {
 	table, fault := defs.Read(text)
 	if fault.Code != api.OK {
-		return &solver{}, fault
+		return nil, fault
 	}
 	many := len(table.Nodes)
 	s := &solver{
