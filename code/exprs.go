@@ -4,6 +4,7 @@ import (
 	"slices"
 
 	"ravel/api"
+	"ravel/reckon"
 )
 
 // expr writes the orders that put the value of an expression. Truth values are 1 and 0, nil is 0.
@@ -123,6 +124,5 @@ func (m *maker) short(decides, right int) {
 }
 
 func (m *maker) two(sign string) {
-	signs := []string{"+", "-", "*", "/", "%", "<", "<=", ">", ">=", "==", "!="}
-	m.put(api.OpTwo, slices.Index(signs, sign))
+	m.put(api.OpTwo, slices.Index(reckon.Signs(), sign))
 }

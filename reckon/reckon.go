@@ -1,6 +1,11 @@
 // Package reckon does what operators do with numbers: see doc/05-run.md. So all who run programs, or tell of them, reckon alike.
 package reckon
 
+// Signs answers the operators that Two knows, in the order in which code numbers them.
+func Signs() []string {
+	return []string{"+", "-", "*", "/", "%", "<", "<=", ">", ">=", "==", "!="}
+}
+
 // Two answers what an operator makes of two numbers, of which truth values are 1 and 0; and whether it makes anything: by 0 nothing is divided. `&&` and `||` are none of these.
 func Two(sign string, left, right int64) (int64, bool) {
 	switch sign {
@@ -13,7 +18,7 @@ func Two(sign string, left, right int64) (int64, bool) {
 	case "/", "%":
 		return divide(sign, left, right)
 	}
-	return truth(held(sign, left, right)), true
+	return Truth(held(sign, left, right)), true
 }
 
 // divide rounds to 0; the least number over -1 is itself.
@@ -44,7 +49,8 @@ func held(sign string, left, right int64) bool {
 	return left != right
 }
 
-func truth(is bool) int64 {
+// Truth answers the number of a truth value.
+func Truth(is bool) int64 {
 	if is {
 		return 1
 	}

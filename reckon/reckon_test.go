@@ -2,6 +2,7 @@ package reckon
 
 import (
 	"math"
+	"slices"
 	"testing"
 )
 
@@ -31,5 +32,17 @@ func TestTwo(t *testing.T) {
 				t.Errorf("%d %s 0: %d, %v", left, sign, got, is)
 			}
 		}
+	}
+}
+
+// TestSigns: Q1: code numbers operators in this order; each of them makes something of two numbers.
+func TestSigns(t *testing.T) {
+	var made []int64
+	for _, sign := range Signs() {
+		number, _ := Two(sign, 7, 4)
+		made = append(made, number)
+	}
+	if !slices.Equal(made, []int64{11, 3, 28, 1, 3, 0, 0, 1, 1, 0, 1}) {
+		t.Error(Signs(), made)
 	}
 }

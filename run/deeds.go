@@ -1,6 +1,10 @@
 package run
 
-import "ravel/check"
+import (
+	"ravel/api"
+	"ravel/check"
+	"ravel/turns"
+)
 
 // Doing is what kind of deed something is.
 type Doing int
@@ -26,8 +30,8 @@ type Deed struct {
 
 // Deeds runs a program that is read already, and answers what was done, in order.
 func Deeds(read check.Program, script []int) []Deed {
-	h := host{program: program{read}, script: script, journal: &journal{}}
-	h.run()
+	h := host{program: program{read}, journal: &journal{}}
+	h.run(script)
 	return h.journal.deeds
 }
 
@@ -37,27 +41,33 @@ type journal struct {
 	touched, channels int // that came up
 }
 
-// write writes a deed down, if somebody wants to know.
-func (j *journal) write(d Deed) {
-	if j != nil {
-		j.deeds = append(j.deeds, d)
-	}
-}
-
-// touch writes down that a variable or a field is read or written, and answers it.
+// touch writes down that a variable or a field is read or written, if somebody wants to know, and answers it.
 func (j *journal) touch(does Doing, thread, node int, v *variable) *variable {
-	if j != nil {
-		j.write(Deed{Doing: does, Thread: thread, Node: node, On: numbered(&v.number, &j.touched)})
+	if j == nil {
+		return v
 	}
+	j.deeds = append(j.deeds, Deed{Doing: does, Thread: thread, Node: node, On: numbered(&v.number, &j.touched)})
 	return v
 }
 
-// use writes down what is done to a channel.
-func (j *journal) use(does Doing, thread int, a arm) {
-	if j != nil {
-		c := a.channel
-		j.write(Deed{Doing: does, Thread: thread, Node: a.node, On: numbered(&c.number, &j.channels), Room: c.room})
+// see writes down what a thread does at its mark, if somebody wants to know.
+func (j *journal) see(a turns.Act) {
+	if j == nil {
+		return
 	}
+	d := Deed{Thread: a.Thread, Node: a.Node}
+	switch {
+	case a.Kind == api.EvGo:
+		d.Doing, d.On = Begins, a.Num
+	case a.Kind == api.EvSend && a.Met:
+		d.Doing, d.On = Meets, a.Other
+	case a.Met || a.Channel == nil:
+		// Who receives is told of by who sends; what is left concerns no other thread.
+		return
+	default:
+		d.Doing, d.On, d.Room = usage(a), numbered(&a.Channel.Number, &j.channels), a.Channel.Room
+	}
+	j.deeds = append(j.deeds, d)
 }
 
 // numbered answers a number, which is the next one, where there was none so far.
@@ -67,4 +77,17 @@ func numbered(number, last *int) int {
 		*number = *last
 	}
 	return *number
+}
+
+// usage answers what is done to a channel at which nobody is met.
+func usage(a turns.Act) Doing {
+	switch {
+	case a.Kind == api.EvSend:
+		return Sends
+	case a.Kind == api.EvClose:
+		return Shuts
+	case a.Nothing:
+		return FindsShut
+	}
+	return Takes
 }

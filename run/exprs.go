@@ -5,6 +5,7 @@ import (
 
 	"ravel/api"
 	"ravel/reckon"
+	"ravel/turns"
 )
 
 // expr does an expression, and answers its value.
@@ -30,13 +31,13 @@ func (t *thread) expr(number int, s *scope) value {
 	case api.KNew:
 		return t.newThing(n.Text)
 	case api.KMake:
-		return &channel{room: n.Num, zero: t.zero(n.Kids[0])}
+		return &turns.Channel{Room: n.Num, Zero: t.zero(n.Kids[0])}
 	case api.KNot:
 		return !t.truth(n.Kids[0], s)
 	case api.KNeg:
 		return -t.number(n.Kids[0], s)
 	case api.KRecv:
-		return t.stand(mark{node: number, arms: []arm{t.receiving(number, s)}}).held
+		return t.stand(trading(number, t.receiving(number, s))).Held
 	case api.KBinary:
 		return t.binary(number, s)
 	}
@@ -52,8 +53,8 @@ func (t *thread) truth(number int, s *scope) bool {
 }
 
 // channel does an expression that is a channel, or nil.
-func (t *thread) channel(number int, s *scope) *channel {
-	c, _ := t.expr(number, s).(*channel)
+func (t *thread) channel(number int, s *scope) *turns.Channel {
+	c, _ := t.expr(number, s).(*turns.Channel)
 	return c
 }
 

@@ -1,6 +1,9 @@
 package run
 
-import "ravel/api"
+import (
+	"ravel/api"
+	"ravel/turns"
+)
 
 // ending is how a statement ends.
 type ending int
@@ -34,12 +37,14 @@ func (t *thread) stmt(number int, s *scope) ending {
 	case api.KDo:
 		t.expr(n.Kids[0], s)
 	case api.KSend:
-		t.stand(mark{node: number, arms: []arm{t.sending(number, s)}})
+		t.stand(trading(number, t.sending(number, s)))
 	case api.KGo:
 		f, values := t.called(n.Kids[0], s)
-		t.stand(mark{node: number, called: f, values: values})
-	case api.KClose, api.KPrint:
-		t.stand(mark{node: number, values: []value{t.expr(n.Kids[0], s)}})
+		t.stand(turns.Mark{Does: turns.Begins, Node: number, Held: start{f, values}})
+	case api.KClose:
+		t.stand(turns.Mark{Does: turns.Shuts, Node: number, Held: t.expr(n.Kids[0], s)})
+	case api.KPrint:
+		t.stand(turns.Mark{Does: turns.Prints, Node: number, Held: t.expr(n.Kids[0], s)})
 	case api.KPanic:
 		t.expr(n.Kids[0], s)
 		t.fall(number)
@@ -110,33 +115,38 @@ func (t *thread) assign(number int, s *scope) {
 
 // selects stands at the mark of a KSelect, and does the case that is picked.
 func (t *thread) selects(number int, s *scope) ending {
-	m := mark{node: number}
+	m := trading(number)
 	for _, kid := range t.Nodes[number].Kids {
 		switch t.Nodes[kid].Kind {
 		case api.KCaseSend:
-			m.arms = append(m.arms, t.sending(kid, s))
+			m.Arms = append(m.Arms, t.sending(kid, s))
 		case api.KCaseRecv:
-			m.arms = append(m.arms, t.receiving(kid, s))
+			m.Arms = append(m.Arms, t.receiving(kid, s))
 		case api.KCaseElse:
-			m.other = kid
+			m.Other = kid
 		}
 	}
 	a := t.stand(m)
-	done := t.Nodes[a.node]
+	done := t.Nodes[a.Node]
 	if done.Kind == api.KCaseRecv {
-		s = s.with(a.node, a.held)
+		s = s.with(a.Node, a.Held)
 	}
 	return t.stmt(done.Kids[len(done.Kids)-1], s)
 }
 
+// trading answers the mark of a KSend, a KRecv or a KSelect.
+func trading(number int, arms ...turns.Arm) turns.Mark {
+	return turns.Mark{Does: turns.Trades, Node: number, Arms: arms}
+}
+
 // sending does the channel and the value of a KSend or a KCaseSend.
-func (t *thread) sending(number int, s *scope) arm {
+func (t *thread) sending(number int, s *scope) turns.Arm {
 	kids := t.Nodes[number].Kids
 	to := t.channel(kids[0], s)
-	return arm{node: number, channel: to, sends: true, held: t.expr(kids[1], s)}
+	return turns.Arm{Node: number, Channel: to, Sends: true, Held: t.expr(kids[1], s)}
 }
 
 // receiving does the channel of a KRecv or a KCaseRecv.
-func (t *thread) receiving(number int, s *scope) arm {
-	return arm{node: number, channel: t.channel(t.Nodes[number].Kids[0], s)}
+func (t *thread) receiving(number int, s *scope) turns.Arm {
+	return turns.Arm{Node: number, Channel: t.channel(t.Nodes[number].Kids[0], s)}
 }

@@ -6,30 +6,19 @@ import (
 	"sync/atomic"
 
 	"ravel/api"
+	"ravel/turns"
 )
 
-// arm is something that a thread at a mark would send or receive.
-type arm struct {
-	node    int
-	channel *channel
-	sends   bool
-	held    value // what is sent
-}
-
-// mark is where a thread stands, and waits to be answered.
+// mark is where a thread stands.
 type mark struct {
-	node   int       // where it stands: -1: at the thread's end
-	status int       // Fell, Out: the run ends there; else Done
-	arms   []arm     // of a KSend, a KRecv, a KSelect
-	other  int       // of a KSelect: its KCaseElse; 0: there is none (node 0 has no nodes below it)
-	called *function // of a KGo
-	values []value   // of a KGo: those of its call; of a KClose, a KPrint: the one
+	turns.Mark
+	status int // Fell, Out: the run ends there; else Done
 }
 
-// answer lets a thread go on behind its mark.
-type answer struct {
-	node int   // of a KSelect: the case that is done
-	held value // what is received
+// start is what a thread does first: a call.
+type start struct {
+	called *function
+	values []value
 }
 
 // runOver is what threads give up with when the run ends ahead of them.
@@ -42,13 +31,13 @@ type thread struct {
 	steps   *atomic.Int64 // of all threads
 	journal *journal      // likewise; perhaps nil
 	marks   chan mark
-	answers chan answer
+	answers chan turns.Answer
 	calls   int   // that are within one another
 	back    value // what the last KReturn gave back
 }
 
-// live does a function as the thread's first one, and tells when nothing is touched any more.
-func (t *thread) live(f *function, values []value, all *sync.WaitGroup) {
+// live does a thread's first call, and tells when nothing is touched any more.
+func (t *thread) live(first start, all *sync.WaitGroup) {
 	defer all.Done()
 	defer func() {
 		if reason := recover(); reason != nil && reason != (runOver{}) {
@@ -56,12 +45,12 @@ func (t *thread) live(f *function, values []value, all *sync.WaitGroup) {
 		}
 	}()
 	t.await()
-	t.body(f, values)
-	t.stand(mark{node: -1})
+	t.body(first.called, first.values)
+	t.stand(turns.Mark{Does: turns.Ends})
 }
 
 // await waits until the thread is let.
-func (t *thread) await() answer {
+func (t *thread) await() turns.Answer {
 	a, on := <-t.answers
 	if !on {
 		panic(runOver{})
@@ -70,20 +59,25 @@ func (t *thread) await() answer {
 }
 
 // stand tells at which mark the thread stands, and waits until it is let.
-func (t *thread) stand(m mark) answer {
-	t.marks <- m
+func (t *thread) stand(m turns.Mark) turns.Answer {
+	t.marks <- mark{Mark: m}
 	return t.await()
 }
 
-// fall ends the run at a node: nobody goes on behind it.
+// end ends the run at a node: nobody goes on behind it.
+func (t *thread) end(status, number int) {
+	t.marks <- mark{Mark: turns.Mark{Node: number}, status: status}
+	t.await()
+}
+
 func (t *thread) fall(number int) {
-	t.stand(mark{node: number, status: api.Fell})
+	t.end(api.Fell, number)
 }
 
 // begin counts a step.
 func (t *thread) begin(number int) {
 	if t.steps.Add(1) > api.MaxSteps {
-		t.stand(mark{node: number, status: api.Out})
+		t.end(api.Out, number)
 	}
 }
 

@@ -1,8 +1,6 @@
 package run
 
-import "math/bits"
-
-// value is an int64, a bool, a *thing, a *channel, a *function, or nil.
+// value is an int64, a bool, a *thing, a *turns.Channel, a *function, or nil.
 type value any
 
 // variable has a value, which can be another one later.
@@ -37,42 +35,9 @@ type thing struct {
 	fields []variable
 }
 
-// channel is what `make` makes.
-type channel struct {
-	room    int
-	zero    value
-	held    []value
-	closed  bool
-	senders crowd // who stands to send on it
-	takers  crowd // who stands to receive from it
-	number  int   // in the journal; 0: it did not come up yet
-}
-
-// crowd has threads: the bits of their numbers.
-type crowd uint
-
-// least answers the least number of those that are there, but for one; or -1.
-func (c crowd) least(but int) int {
-	if others := c &^ (1 << but); others != 0 {
-		return bits.TrailingZeros(uint(others))
-	}
-	return -1
-}
-
 // function is what a literal, a function's name, or a method with what stands ahead of its `.` makes.
 type function struct {
 	node  int
 	scope *scope  // of a literal: what it uses
 	ahead []value // of a method: what stands ahead of its `.`
-}
-
-// told answers a value's number as events tell it.
-func told(v value) int {
-	if number, is := v.(int64); is {
-		return int(number)
-	}
-	if v == true {
-		return 1
-	}
-	return 0
 }

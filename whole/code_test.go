@@ -9,6 +9,7 @@ import (
 	"ravel/check"
 	"ravel/code"
 	"ravel/run"
+	"ravel/vm"
 )
 
 // holdCode holds that a program's code is right, and answers it, and whether there is one.
@@ -34,7 +35,10 @@ func holdCode(t *testing.T, text string) (api.Code, bool) {
 func holdRunsCode(t *testing.T, text string, c api.Code, script []int) (int, int) {
 	t.Helper()
 	first, _ := run.Run(text, script)
-	second, _ := runOrders(c, script)
+	second, wrong := vm.Run(c, script)
+	if wrong != api.OK {
+		t.Fatalf("%d of %v of\n%s", wrong, c, text)
+	}
 	a, b := withoutNodes(first), withoutNodes(second)
 	same := first.Status == second.Status
 	if first.Status == api.Out {

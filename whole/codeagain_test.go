@@ -6,7 +6,7 @@ import (
 	"ravel/api"
 )
 
-// This is a way to run code: all threads are done by one goroutine, order by order.
+// This is a second way to run code: what threads can do at their marks is looked for anew at each turn, among all of them.
 
 // box is a variable.
 type box struct{ held any }
@@ -51,17 +51,17 @@ type orders struct {
 }
 
 // runOrders runs code that is right.
-func runOrders(c api.Code, script []int) (api.Trace, int) {
+func runOrders(c api.Code, script []int) api.Trace {
 	o := orders{code: c, left: slices.Clone(script)}
 	if c.Fns[0].Params > 0 {
-		return api.Trace{Status: api.Fell, At: -1}, 0
+		return api.Trace{Status: api.Fell, At: -1}
 	}
 	o.begin(&worker{}, nil)
 	o.advance(o.hands[0])
 	for !o.over {
 		o.turn()
 	}
-	return o.trace, o.steps
+	return o.trace
 }
 
 func (o *orders) finish(status, at int) {
@@ -178,7 +178,7 @@ func (o *orders) order(h *hand, l *level, at int) bool {
 			l.at = op.A
 		}
 	case api.OpShort:
-		if l.held[len(l.held)-1] == int64(op.B) {
+		if numberOf(l.held[len(l.held)-1]) == int64(op.B) {
 			l.at = op.A
 		} else {
 			l.pop()
