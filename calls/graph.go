@@ -17,12 +17,22 @@ type Graph struct {
 // Read answers the graph of a text's program, or what is wrong with the text; then nothing is in the graph. So who goes on from there looks for calls once.
 func Read(text string) (Graph, api.Fault) {
 	solver, fault := points.Read(text)
+	return join(solver), fault
+}
+
+// Look answers the graph of a program that is read already.
+func Look(read check.Program) Graph {
+	return join(points.Look(read))
+}
+
+// join makes the graph of what can be where.
+func join(solver *points.Solver) Graph {
 	g := Graph{Solver: solver, next: make([][]int, len(solver.Nodes))}
 	for _, pair := range g.Calls() {
 		caller := g.Around(pair[0])
 		g.next[caller] = append(g.next[caller], pair[1])
 	}
-	return g, fault
+	return g
 }
 
 // behind answers of each node 1, if one comes there from a function by one call or more, else 0.

@@ -26,12 +26,9 @@ type solver struct {
 	known []api.Known // of each expression what it was when it was looked at last
 }
 
-// read answers what is known of a text's program, or what is wrong with the text; then there is no solver.
-func read(text string) (*solver, api.Fault) {
-	table, fault := defs.Read(text)
-	if fault.Code != api.OK {
-		return nil, fault
-	}
+// solve finds what is known of a program.
+func solve(program check.Program) *solver {
+	table := defs.Look(program)
 	many := len(table.Nodes)
 	s := &solver{
 		Table: table,
@@ -49,7 +46,7 @@ func read(text string) (*solver, api.Fault) {
 	}
 	s.begin()
 	s.settle()
-	return s, api.Fault{}
+	return s
 }
 
 // begin lets all functions go. A function's node looks at no variable, so that its params are any ahead of it already says the same.

@@ -27,10 +27,16 @@ type Step struct {
 
 // Read answers the table of a text's program, or what is wrong with the text; then the table is zero. So who needs names, edges and variables reads a text once.
 func Read(text string) (Table, api.Fault) {
-	program, fault := flow.Read(text)
+	read, fault := check.Read(text)
 	if fault.Code != api.OK {
 		return Table{}, fault
 	}
+	return Look(read), api.Fault{}
+}
+
+// Look answers the table of a program that is read already.
+func Look(read check.Program) Table {
+	program := flow.Look(read)
 	none := slices.Repeat([]int{-1}, len(program.Nodes))
 	t := Table{
 		Program:   program,
@@ -44,7 +50,7 @@ func Read(text string) (Table, api.Fault) {
 	t.share()
 	t.touch()
 	t.join()
-	return t, api.Fault{}
+	return t
 }
 
 // lookAround finds in which stations nodes stand: who is around a node has a higher number.

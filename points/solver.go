@@ -55,6 +55,11 @@ func Read(text string) (*Solver, api.Fault) {
 	if fault.Code != api.OK {
 		return &Solver{}, fault
 	}
+	return Look(program), api.Fault{}
+}
+
+// Look answers what can be where in a program that is read already.
+func Look(program check.Program) *Solver {
 	s := &Solver{
 		Program:   program,
 		functions: program.Functions(),
@@ -65,7 +70,7 @@ func Read(text string) (*Solver, api.Fault) {
 		s.rule(number)
 	}
 	s.settle()
-	return s, api.Fault{}
+	return s
 }
 
 // Sites answers the sites of the things that can be at a node, rising.

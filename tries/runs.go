@@ -49,7 +49,7 @@ func next(picks []run.Pick) ([]int, bool) {
 
 // count counts a run among those that end and print as it does.
 func count(outcomes []api.Outcome, a attempt) []api.Outcome {
-	prints := printed(a.Events)
+	prints := Printed(a.Events)
 	at := slices.IndexFunc(outcomes, func(o api.Outcome) bool {
 		return o.Status == a.Status && o.At == a.At && slices.Equal(o.Prints, prints)
 	})
@@ -60,8 +60,8 @@ func count(outcomes []api.Outcome, a attempt) []api.Outcome {
 	return outcomes
 }
 
-// printed answers the numbers that are printed.
-func printed(events []api.Event) []int {
+// Printed answers the numbers that are printed, of the events of a run.
+func Printed(events []api.Event) []int {
 	var out []int
 	for _, e := range events {
 		if e.Kind == api.EvPrint {
