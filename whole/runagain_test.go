@@ -24,6 +24,7 @@ type names map[int]*cell
 
 type object struct {
 	site   int // the node that made it
+	maker  int // the strand that made it
 	owner  string
 	fields map[string]*cell
 }
@@ -102,8 +103,9 @@ type machine struct {
 type act struct {
 	what   string // "read", "write", "go", "send", "take", "shut", "empty": take from a pipe that is closed and empty
 	strand int
-	node   int   // of a read or a write
-	cell   *cell // likewise
+	node   int     // of a read or a write
+	cell   *cell   // likewise
+	object *object // likewise, of a field
 	pipe   *pipe
 	other  int // of a go: the strand that begins
 }
@@ -397,7 +399,7 @@ func (m *machine) assign(s *strand, node int, in names) {
 			return
 		}
 		x.fields[left.Text].held = v
-		m.act(s, act{what: "write", node: node, cell: x.fields[left.Text]})
+		m.act(s, act{what: "write", node: node, cell: x.fields[left.Text], object: x})
 		m.see(spot{x.site, true, left.Text}, v)
 	})
 }
@@ -518,7 +520,7 @@ func (m *machine) expr(s *strand, node int, in names) {
 	case api.KLit:
 		s.push(&routine{site: node, node: node, names: maps.Clone(in)})
 	case api.KNew:
-		s.push(m.newObject(node))
+		s.push(m.newObject(s, node))
 	case api.KMake:
 		s.push(&pipe{site: node, room: n.Num, zero: m.zeroOf(n.Kids[0])})
 	case api.KNot:
@@ -573,9 +575,9 @@ func (m *machine) others(s *strand, node int, in names) {
 	}
 }
 
-func (m *machine) newObject(site int) *object {
+func (m *machine) newObject(s *strand, site int) *object {
 	owner := m.nodes[site].Text
-	x := &object{site: site, owner: owner, fields: map[string]*cell{}}
+	x := &object{site: site, maker: slices.Index(m.strands, s), owner: owner, fields: map[string]*cell{}}
 	for _, n := range m.nodes {
 		if n.Kind == api.KStruct && n.Text == owner {
 			for _, field := range n.Kids {
@@ -605,7 +607,7 @@ func (m *machine) dot(s *strand, node int, ahead any) {
 	case x == nil:
 		m.finish(api.Fell, node)
 	case typ[0] == '*':
-		m.act(s, act{what: "read", node: node, cell: x.fields[n.Text]})
+		m.act(s, act{what: "read", node: node, cell: x.fields[n.Text], object: x})
 		s.push(x.fields[n.Text].held)
 	default:
 		s.push(&routine{site: node, node: find(x.owner), ahead: []any{ahead}})
