@@ -19,15 +19,14 @@ type again struct {
 	low    []int // of each node the least number below it, or its own
 }
 
-// checkAgain answers the first fault of a program.
-func checkAgain(text string) api.Fault {
+// newAgain answers one that knows how a program's nodes stand, but no types of expressions yet; or the text's fault.
+func newAgain(text string) (*again, api.Fault) {
 	nodes, fault := syntax.Parse(text)
 	if fault.Code != api.OK {
-		return fault
+		return nil, fault
 	}
 	table, _ := types.Read(text)
-	texts := slices.Clone(table.Texts)
-	a := again{text: text, nodes: nodes, table: table, texts: texts, parent: make([]int, len(nodes)), low: make([]int, len(nodes))}
+	a := &again{text: text, nodes: nodes, table: table, texts: slices.Clone(table.Texts), parent: make([]int, len(nodes)), low: make([]int, len(nodes))}
 	for i, n := range nodes {
 		a.low[i] = i
 		for _, kid := range n.Kids {
@@ -35,10 +34,19 @@ func checkAgain(text string) api.Fault {
 			a.low[i] = min(a.low[i], a.low[kid])
 		}
 	}
-	for i, n := range nodes {
+	return a, api.Fault{}
+}
+
+// checkAgain answers the first fault of a program.
+func checkAgain(text string) api.Fault {
+	a, fault := newAgain(text)
+	if fault.Code != api.OK {
+		return fault
+	}
+	for i, n := range a.nodes {
 		code := a.type1(i)
 		if n.Kind >= api.KNumber {
-			texts[i], code = a.expr(i)
+			a.texts[i], code = a.expr(i)
 		} else if n.Kind >= api.KBlock {
 			code = a.stmt(i)
 		}
